@@ -19,6 +19,7 @@ import (
 const (
 	module    = "hallmark/"
 	maxLength = 60 // lines of a function
+	testsOnly = "specimen"
 
 	allowed = " bytes cmp container/heap errors iter maps math math/big math/bits slices sort strconv strings sync sync/atomic unicode unicode/utf8 "
 )
@@ -96,12 +97,15 @@ func TestImports(t *testing.T) {
 	}
 }
 
-// checkBelow refuses a layer that imports one that isn't below it.
+// checkBelow refuses a layer that imports one that isn't below it, or what is there for tests alone.
 func checkBelow(t *testing.T, path, imported string) {
 	t.Helper()
 	at, of := slices.Index(layers(), packageOf(path)), slices.Index(layers(), imported)
 	if at >= 0 && of >= at {
 		t.Errorf("%s imports %s, which isn't below it", path, imported)
+	}
+	if imported == testsOnly {
+		t.Errorf("%s imports %s", path, imported)
 	}
 }
 

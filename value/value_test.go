@@ -9,6 +9,7 @@ import (
 	"testing"
 
 	"hallmark/api"
+	"hallmark/specimen"
 	"hallmark/value"
 )
 
@@ -238,25 +239,6 @@ var deep = made{"Deep",
 	func(a, b api.Value, _ string) (api.Value, api.Errno) {
 		return unless(!isObject(a) || !isObject(b), deepOf(a, b))
 	},
-}
-
-// roomy is a copy of a value whose lists, the empty ones too, have spare room with marks in it.
-func roomy(v api.Value) api.Value {
-	items := make([]api.Value, len(v.Items)+2)
-	for i, item := range v.Items {
-		items[i] = roomy(item)
-	}
-	items[len(v.Items)], items[len(v.Items)+1] = text("spare"), num("77")
-	keys := append(slices.Clone(v.Keys), "spare", "room")
-	v.Items, v.Keys = items[:len(v.Items)], keys[:len(v.Keys)]
-	return v
-}
-
-// untouched says whether a value is still what roomy made of it, its spare room too.
-func untouched(v, before api.Value) bool {
-	items, keys := v.Items[:cap(v.Items)], v.Keys[:len(v.Keys)+2]
-	n := len(v.Items)
-	return alike(v, before) && items[n].Text == "spare" && items[n+1].Num == "77" && keys[len(keys)-2] == "spare" && keys[len(keys)-1] == "room" && slices.EqualFunc(v.Items, before.Items, untouched)
 }
 
 // cells counts the places of all lists in values, those of their spare room too, and those of lists behind what a kind uses.
@@ -818,36 +800,12 @@ func TestSameness(t *testing.T) {
 	group.Wait()
 }
 
-// picks takes choices from bytes; where they end, it takes the first one.
-func picks(data []byte) source {
-	return func(many int) int {
-		if len(data) == 0 {
-			return 0
-		}
-		n := int(data[0]) % many
-		data = data[1:]
-		return n
-	}
-}
-
-// spoiled is a value with a part of it changed for a misshapen one.
-func spoiled(v api.Value, pick source) api.Value {
-	if len(v.Items) == 0 || pick(3) == 0 {
-		all := misshapen()
-		return all[pick(len(all))]
-	}
-	v.Items = slices.Clone(v.Items)
-	at := pick(len(v.Items))
-	v.Items[at] = spoiled(v.Items[at], pick)
-	return v
-}
-
 func FuzzAny(f *testing.F) {
 	for _, s := range []string{"", "\x06\x04\x01\x03\x02", "\x05\x03\x06\x02\x01\x06\x04\x03\x03", "abcdefghijklmnop", strings.Repeat("\x06\x04\x05", 30)} {
 		f.Add([]byte(s))
 	}
 	f.Fuzz(func(t *testing.T, data []byte) {
-		pick := picks(data)
+		pick := specimen.Picks(data)
 		key := names[pick(len(names))]
 		a, b, c := drawnObject(pick, 4), drawn(pick, 4), drawnObject(pick, 3)
 		checkCmp(t, a, c)
@@ -855,10 +813,10 @@ func FuzzAny(f *testing.F) {
 		checkMerges(t, a, c, drawnObject(pick, 2))
 		checkFields(t, a, b, key)
 		if pick(4) == 0 {
-			a = spoiled(a, pick)
+			a = spoilt(a, pick)
 		}
 		if pick(4) == 0 {
-			b = spoiled(b, pick)
+			b = spoilt(b, pick)
 		}
 		if value.Formed(a) != formedOf(a) || value.Formed(b) != formedOf(b) {
 			t.Errorf("Formed of %v, %v", a, b)

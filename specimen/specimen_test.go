@@ -1,0 +1,47 @@
+package specimen_test
+
+import (
+	"testing"
+
+	"hallmark/api"
+	"hallmark/specimen"
+)
+
+func made() api.Value {
+	return specimen.Roomy(specimen.List(specimen.Num("1"), specimen.Object([]string{"a", "b"}, specimen.List(), specimen.Text("x"))))
+}
+
+// What is written anywhere into a roomy value is seen.
+func TestUntouched(t *testing.T) {
+	if !specimen.Untouched(made(), made()) {
+		t.Fatal("touched by nobody")
+	}
+	for i, write := range []func(v api.Value){
+		func(v api.Value) { v.Items[0].Num = "2" },
+		func(v api.Value) { v.Items[1].Kind = api.Array },
+		func(v api.Value) { v.Items[1].Keys[1] = "c" },
+		func(v api.Value) { v.Items[1].Items[1].Text = "y" },
+		func(v api.Value) { v.Items[1].Items[0].Items = []api.Value{{}} },
+		func(v api.Value) { _ = append(v.Items, api.Value{}) },
+		func(v api.Value) { _ = append(v.Items, specimen.Text("spare"), api.Value{}) },
+		func(v api.Value) { _ = append(v.Keys, "") },
+		func(v api.Value) { _ = append(v.Items[1].Keys, "spare", "") },
+		func(v api.Value) { _ = append(v.Items[1].Items[0].Items, api.Value{}) },
+		func(v api.Value) { _ = append(v.Items[0].Keys, "") },
+	} {
+		v := made()
+		write(v)
+		if specimen.Untouched(v, made()) {
+			t.Errorf("what write %d does isn't seen", i)
+		}
+	}
+}
+
+// The same choices make the same value.
+func TestPicks(t *testing.T) {
+	data := []byte("\x06\x04\x05\x03\x06\x02\x01\x06\x04\x03\x03abc")
+	a, b := specimen.Drawn(specimen.Picks(data), 4), specimen.Drawn(specimen.Picks(data), 4)
+	if a.Kind != api.Object || len(a.Items) == 0 || !specimen.Alike(a, b) {
+		t.Errorf("%v, and %v", a, b)
+	}
+}
