@@ -108,22 +108,3 @@ func Spoilt(v api.Value, pick Source) api.Value {
 	v.Items[at] = Spoilt(v.Items[at], pick)
 	return v
 }
-
-// Roomy is a copy of a value whose lists, the empty ones too, have spare room with marks in it.
-func Roomy(v api.Value) api.Value {
-	items := make([]api.Value, 0, len(v.Items)+2)
-	for _, item := range v.Items {
-		items = append(items, Roomy(item))
-	}
-	keys := make([]string, 0, len(v.Keys)+2)
-	keys = append(keys, v.Keys...)
-	v.Items, v.Keys = append(items, Text("spare"), Num("77"))[:len(items)], append(keys, "spare", "room")[:len(keys)]
-	return v
-}
-
-// Untouched says whether a value is still what Roomy made of this one, its spare room too.
-func Untouched(v, before api.Value) bool {
-	items, keys := v.Items[len(v.Items):cap(v.Items)], v.Keys[len(v.Keys):cap(v.Keys)]
-	marked := len(items) == 2 && items[0].Text == "spare" && items[1].Num == "77" && slices.Equal(keys, []string{"spare", "room"})
-	return marked && alikeOutside(v, before) && slices.EqualFunc(v.Items, before.Items, Untouched)
-}

@@ -37,6 +37,37 @@ func TestUntouched(t *testing.T) {
 	}
 }
 
+// What shares a place with another list, or within itself, isn't its own.
+func TestOwn(t *testing.T) {
+	v, other := made(), made()
+	if !specimen.Own(v) || !specimen.Own(v, other) || specimen.Own(v, other, v) {
+		t.Fatal("two values that share nothing")
+	}
+	spare := specimen.List(other.Items[:0]...)
+	inside := specimen.List(v.Items[1])
+	behind := specimen.Object(v.Items[1].Keys[1:1], v)
+	for i, w := range []api.Value{spare, inside, behind} {
+		if specimen.Own(w, v, other) {
+			t.Errorf("what value %d shares isn't seen", i)
+		}
+	}
+	if specimen.Own(specimen.List(v, v)) || specimen.Own(behind) {
+		t.Error("what a value shares within itself isn't seen")
+	}
+	if !specimen.Untouched(v, made()) || !specimen.Untouched(other, made()) {
+		t.Errorf("changed: %v, %v", v, other)
+	}
+}
+
+func TestScribble(t *testing.T) {
+	v := made()
+	inner := v.Items[1]
+	specimen.Scribble(v)
+	if v.Items[0].Text != "scribbled" || v.Items[:cap(v.Items)][3].Text != "scribbled" || inner.Keys[1] != "scribbled" || inner.Items[0].Text != "scribbled" {
+		t.Errorf("%v, %v", v, inner)
+	}
+}
+
 // The same choices make the same value.
 func TestPicks(t *testing.T) {
 	data := []byte("\x06\x04\x05\x03\x06\x02\x01\x06\x04\x03\x03abc")

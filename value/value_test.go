@@ -241,37 +241,11 @@ var deep = made{"Deep",
 	},
 }
 
-// cells counts the places of all lists in values, those of their spare room too, and those of lists behind what a kind uses.
-func cells(values ...api.Value) map[any]int {
-	out := map[any]int{}
-	var walk func(v api.Value)
-	walk = func(v api.Value) {
-		items, keys := v.Items[:cap(v.Items)], v.Keys[:cap(v.Keys)]
-		for i := range items {
-			out[&items[i]]++
-		}
-		for i := range keys {
-			out[&keys[i]]++
-		}
-		for _, item := range v.Items {
-			walk(item)
-		}
-	}
-	for _, v := range values {
-		walk(v)
-	}
-	return out
-}
-
 // checkOwn refuses an answer that shares memory with arguments, or of which two lists share some.
 func checkOwn(t *testing.T, what string, answer api.Value, args ...api.Value) {
 	t.Helper()
-	given := cells(args...)
-	for place, many := range cells(answer) {
-		if many > 1 || given[place] > 0 {
-			t.Errorf("%s: the memory of %v isn't its own", what, answer)
-			return
-		}
+	if !specimen.Own(answer, args...) {
+		t.Errorf("%s: the memory of %v isn't its own", what, answer)
 	}
 }
 
@@ -489,19 +463,6 @@ func eachOf(v api.Value) api.Value {
 	return out
 }
 
-// scribble writes into all lists of a value, and into their spare room.
-func scribble(v api.Value) {
-	for _, item := range v.Items {
-		scribble(item)
-	}
-	for i := range v.Items[:cap(v.Items)] {
-		v.Items[:cap(v.Items)][i] = text("scribbled")
-	}
-	for i := range v.Keys[:cap(v.Keys)] {
-		v.Keys[:cap(v.Keys)][i] = "scribbled"
-	}
-}
-
 func checkEach(t *testing.T, v api.Value) {
 	t.Helper()
 	given, want := roomy(v), eachOf(v)
@@ -511,10 +472,10 @@ func checkEach(t *testing.T, v api.Value) {
 		t.Errorf("Each(%v) goes through %v; v is %v", v, first, given)
 	}
 	checkOwn(t, "Each", first, given)
-	scribble(given)
+	specimen.Scribble(given)
 	second := gone(seq)
 	checkOwn(t, "Each", second, given, first)
-	scribble(first)
+	specimen.Scribble(first)
 	if third := gone(seq); !alike(second, want) || !alike(third, want) {
 		t.Errorf("Each(%v) goes through %v and %v later", v, second, third)
 	}
@@ -534,7 +495,7 @@ func checkLeft(t *testing.T, seq iter.Seq2[string, api.Value], want api.Value, s
 		if key != want.Keys[n] || !alike(item, want.Items[n]) {
 			t.Errorf("at %d: %q, %v", n, key, item)
 		}
-		scribble(item)
+		specimen.Scribble(item)
 		n++
 		if n == stop {
 			break
@@ -601,7 +562,7 @@ func TestP3_9ChangedOnTheWay(t *testing.T) {
 		if key != want.Keys[n] || !alike(item, want.Items[n]) {
 			t.Errorf("%q %v", key, item)
 		}
-		scribble(v)
+		specimen.Scribble(v)
 		n++
 	}
 	if n != 3 {
