@@ -182,20 +182,6 @@ func ofAllKinds() []api.Value {
 	return append(out, object(nil), object(ab[:1], num("2")), object(ab[:1], list()), object(ab, num("1"), num("1")), object(ab, num("1"), num("2")), object(ab[1:], num("1")))
 }
 
-// permuted gives each order of a list.
-func permuted(l []api.Value, yield func(l []api.Value)) {
-	var place func(front, rest []api.Value)
-	place = func(front, rest []api.Value) {
-		if len(rest) == 0 {
-			yield(slices.Clone(front))
-		}
-		for i, v := range rest {
-			place(append(slices.Clone(front), v), slices.Delete(slices.Clone(rest), i, i+1))
-		}
-	}
-	place(nil, l)
-}
-
 // shuffled is a list in another order.
 func shuffled(l []api.Value, seed int64) []api.Value {
 	out := slices.Clone(l)

@@ -2,6 +2,7 @@
 package specimen
 
 import (
+	"iter"
 	"slices"
 	"strings"
 
@@ -119,6 +120,23 @@ func Nested(v api.Value, deep int) api.Value {
 		}
 	}
 	return v
+}
+
+// Orders gives a list in each of its orders, in memory of its own.
+func Orders[T any](l []T) iter.Seq[[]T] {
+	return func(yield func([]T) bool) {
+		if len(l) == 0 {
+			yield(nil)
+			return
+		}
+		for i := range l {
+			for rest := range Orders(slices.Concat(l[:i], l[i+1:])) {
+				if !yield(append([]T{l[i]}, rest...)) {
+					return
+				}
+			}
+		}
+	}
 }
 
 // Alike says whether two values are so field by field, a list that is nil being like an empty one.

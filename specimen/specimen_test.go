@@ -1,6 +1,8 @@
 package specimen_test
 
 import (
+	"fmt"
+	"slices"
 	"testing"
 
 	"hallmark/api"
@@ -74,5 +76,29 @@ func TestPicks(t *testing.T) {
 	a, b := specimen.Drawn(specimen.Picks(data), 4), specimen.Drawn(specimen.Picks(data), 4)
 	if a.Kind != api.Object || len(a.Items) == 0 || !specimen.Alike(a, b) {
 		t.Errorf("%v, and %v", a, b)
+	}
+}
+
+// Each order is given once.
+func TestOrders(t *testing.T) {
+	for many, want := range []int{1, 1, 2, 6, 24, 120} {
+		l := []int{1, 2, 3, 4, 5}[:many]
+		seen := map[string]bool{}
+		for order := range specimen.Orders(l) {
+			seen[fmt.Sprint(order)] = true
+			slices.Sort(order)
+			if !slices.Equal(order, l) {
+				t.Errorf("an order of %v: %v", l, order)
+			}
+		}
+		if len(seen) != want {
+			t.Errorf("%d orders of %v", len(seen), l)
+		}
+	}
+	for order := range specimen.Orders([]string{"a", "b", "c"}) {
+		if !slices.Equal(order, []string{"a", "b", "c"}) {
+			t.Errorf("first %q", order)
+		}
+		break
 	}
 }
