@@ -1,6 +1,7 @@
 package specimen
 
 import (
+	"math/bits"
 	"slices"
 	"strconv"
 
@@ -9,31 +10,76 @@ import (
 
 // Roomy is a copy of a value whose lists, the empty ones too, have spare room with marks in it.
 func Roomy(v api.Value) api.Value {
-	items := make([]api.Value, 0, len(v.Items)+2)
-	for _, item := range v.Items {
-		items = append(items, Roomy(item))
+	v.Items, v.Keys = roomy(v.Items, Text("spare"), Num("77")), roomy(v.Keys, "spare", "room")
+	for i, item := range v.Items {
+		v.Items[i] = Roomy(item)
 	}
-	keys := make([]string, 0, len(v.Keys)+2)
-	keys = append(keys, v.Keys...)
-	v.Items, v.Keys = append(items, Text("spare"), Num("77"))[:len(items)], append(keys, "spare", "room")[:len(keys)]
 	return v
+}
+
+// roomy is a list in memory of its own, with two marks in its spare room.
+func roomy[T any](l []T, a, b T) []T {
+	out := make([]T, 0, len(l)+2)
+	return append(append(out, l...), a, b)[:len(l)]
 }
 
 // Untouched says whether a value is still what Roomy made of this one, its spare room too.
 func Untouched(v, before api.Value) bool {
-	items, keys := v.Items[len(v.Items):cap(v.Items)], v.Keys[len(v.Keys):cap(v.Keys)]
-	marked := len(items) == 2 && items[0].Text == "spare" && items[1].Num == "77" && slices.Equal(keys, []string{"spare", "room"})
+	marked := slices.EqualFunc(spare(v.Items), []api.Value{Text("spare"), Num("77")}, Alike) && slices.Equal(spare(v.Keys), []string{"spare", "room"})
 	return marked && alikeOutside(v, before) && slices.EqualFunc(v.Items, before.Items, Untouched)
 }
 
-// Own says whether a value's memory is its own: no two of its lists share a place, spare room counted, and none of them shares one with these others. Marks are written into all places, asked for, and taken out again.
-func Own(v api.Value, others ...api.Value) bool {
-	own, given := places(v), places(others...)
-	all := slices.Concat(own, given)
-	var was []string
-	for _, place := range all {
-		was = append(was, *place)
+// spare is what stands behind a list.
+func spare[T any](l []T) []T { return l[len(l):cap(l)] }
+
+// Own says whether a value's memory is its own: no two of its lists share a place, spare room counted, and none of them shares one with these others.
+func Own(v api.Value, others ...api.Value) bool { return PlacesOf(v).Apart(PlacesOf(others...)) }
+
+// Places are something to write a mark in, in each place of lists, those of their spare room too.
+type Places struct {
+	texts []*string
+	flags []*bool
+}
+
+// PlacesOf are the places of all lists in values, and of lists that a kind has no use for.
+func PlacesOf(values ...api.Value) Places {
+	var out Places
+	for _, v := range values {
+		out.inValue(v)
 	}
+	return out
+}
+
+func (p *Places) inValue(v api.Value) {
+	items := v.Items[:cap(v.Items)]
+	for i := range items {
+		p.texts = append(p.texts, &items[i].Text)
+	}
+	p.inTexts(v.Keys)
+	for _, item := range v.Items {
+		p.inValue(item)
+	}
+}
+
+func (p *Places) inTexts(l []string) {
+	l = l[:cap(l)]
+	for i := range l {
+		p.texts = append(p.texts, &l[i])
+	}
+}
+
+// Apart says whether all these places are different ones, and none of them is one of the others. Marks are written into all, asked for, and taken out again.
+func (p Places) Apart(others ...Places) bool {
+	var given Places
+	for _, o := range others {
+		given.texts, given.flags = append(given.texts, o.texts...), append(given.flags, o.flags...)
+	}
+	return apartTexts(p.texts, given.texts) && apartFlags(p.flags, given.flags)
+}
+
+func apartTexts(own, given []*string) bool {
+	all := slices.Concat(own, given)
+	was := held(all)
 	for _, place := range given {
 		*place = "given"
 	}
@@ -44,26 +90,44 @@ func Own(v api.Value, others ...api.Value) bool {
 	for i, place := range all {
 		right = right && (i < len(own) && *place == strconv.Itoa(i) || i >= len(own) && *place == "given")
 	}
-	for i, place := range all {
-		*place = was[i]
-	}
+	putBack(all, was)
 	return right
 }
 
-// places is a text in each place of all lists in values, those of their spare room too, and those of lists that a kind has no use for.
-func places(values ...api.Value) []*string {
-	var out []*string
-	for _, v := range values {
-		items, keys := v.Items[:cap(v.Items)], v.Keys[:cap(v.Keys)]
-		for i := range items {
-			out = append(out, &items[i].Text)
+// apartFlags writes the number of each place, from 1 on, a bit a round: of two numbers at one place one isn't there any more in some round. What is given has the number 0.
+func apartFlags(own, given []*bool) bool {
+	all := slices.Concat(own, given)
+	was := held(all)
+	right := true
+	for round := range bits.Len(uint(len(own))) {
+		for _, place := range given {
+			*place = false
 		}
-		for i := range keys {
-			out = append(out, &keys[i])
+		for i, place := range own {
+			*place = (i+1)>>round&1 == 1
 		}
-		out = append(out, places(v.Items...)...)
+		for i, place := range all {
+			right = right && *place == (i < len(own) && (i+1)>>round&1 == 1)
+		}
+	}
+	putBack(all, was)
+	return right
+}
+
+// held is what stands at places.
+func held[T any](places []*T) []T {
+	var out []T
+	for _, place := range places {
+		out = append(out, *place)
 	}
 	return out
+}
+
+// putBack makes it stand there again.
+func putBack[T any](places []*T, was []T) {
+	for i, place := range places {
+		*place = was[i]
+	}
 }
 
 // Scribble writes into all lists of a value, and into their spare room.
@@ -71,10 +135,14 @@ func Scribble(v api.Value) {
 	for _, item := range v.Items {
 		Scribble(item)
 	}
-	for i := range v.Items[:cap(v.Items)] {
-		v.Items[:cap(v.Items)][i] = Text("scribbled")
-	}
-	for i := range v.Keys[:cap(v.Keys)] {
-		v.Keys[:cap(v.Keys)][i] = "scribbled"
+	fill(v.Items, Text("scribbled"))
+	fill(v.Keys, "scribbled")
+}
+
+// fill writes one thing into all places of a list.
+func fill[T any](l []T, with T) {
+	l = l[:cap(l)]
+	for i := range l {
+		l[i] = with
 	}
 }

@@ -1,4 +1,4 @@
-// Package specimen makes values for tests: well shaped ones, ones that aren't in each way in which a value can fail to be, and ones that tell whether a call has written into what it was given. No layer calls it.
+// Package specimen makes values and types for tests: well shaped ones, ones that aren't in each way in which one can fail to be, and ones that tell whether a call has written into what it was given. No layer calls it.
 package specimen
 
 import (
