@@ -3,7 +3,6 @@ package member_test
 import (
 	"fmt"
 	"slices"
-	"sync"
 	"testing"
 
 	"hallmark/api"
@@ -36,21 +35,6 @@ func nudged(v api.Value, pick specimen.Source) api.Value {
 	return v
 }
 
-// single is a type with one alternative at most in each part, so that a reason is told from deep inside.
-func single(a api.Type) api.Type {
-	a.Arrays, a.Objects = slices.Clone(a.Arrays), slices.Clone(a.Objects[:min(len(a.Objects), 1)])
-	for i := range a.Arrays {
-		a.Arrays[i].Item = single(a.Arrays[i].Item)
-	}
-	for i, o := range a.Objects {
-		a.Objects[i].Rest, a.Objects[i].Fields = single(o.Rest), slices.Clone(o.Fields)
-		for k, field := range o.Fields {
-			a.Objects[i].Fields[k] = single(field)
-		}
-	}
-	return a
-}
-
 // Values of types and values near them, held to the words; each reason comes, at the top and deep inside.
 func TestP10_1P10_2P10_3Words(t *testing.T) {
 	pick := random(10)
@@ -58,7 +42,7 @@ func TestP10_1P10_2P10_3Words(t *testing.T) {
 	for range 4000 {
 		a := specimen.DrawnType(pick, 3)
 		if pick(3) > 0 {
-			a = single(a)
+			a = specimen.Single(a)
 		}
 		kinds := specimen.Kinds()
 		if pick(2) == 0 {
@@ -147,7 +131,7 @@ func TestP10_1P10_2MisshapenBoth(t *testing.T) {
 func TestMemoryOfAnswers(t *testing.T) {
 	pick := random(4)
 	for range 1000 {
-		a := single(specimen.DrawnType(pick, 3))
+		a := specimen.Single(specimen.DrawnType(pick, 3))
 		v, _ := specimen.DrawnOf(a, pick, specimen.Kinds()...)
 		v = nudged(v, pick)
 		given, of := specimen.Roomy(v), specimen.RoomyType(a)
@@ -169,11 +153,7 @@ func TestMemoryOfAnswers(t *testing.T) {
 
 // A list that is nil and one that is empty are no different.
 func TestEmptyLists(t *testing.T) {
-	full := func(a api.Type) api.Type {
-		a.Nums, a.Texts = append([]api.Span{}, a.Nums...), append([]string{}, a.Texts...)
-		a.Arrays, a.Objects = append([]api.Arr{}, a.Arrays...), append([]api.Obj{}, a.Objects...)
-		return a
-	}
+	full := specimen.EmptyListed
 	empty := api.Obj{Names: []string{}, Fields: []api.Type{}, Must: []bool{}, Rest: full(never)}
 	types := []api.Type{never, every, null, anyNumber, anyText, texts("a"), arrays(full(never), 0, 0), arrays(full(null), 0, -1), objects(empty), objects(empty, empty)}
 	for _, v := range []api.Value{kind(api.Null), num("1"), text("a"), list(), object(nil), list(list()), object([]string{"a"}, list())} {
@@ -203,16 +183,9 @@ func TestSameness(t *testing.T) {
 		}
 		return string(out)
 	}
-	want := answers()
-	var crew sync.WaitGroup
-	for range 8 {
-		crew.Go(func() {
-			if answers() != want {
-				t.Error("another answer")
-			}
-		})
+	if !specimen.AtOnce(answers) {
+		t.Error("another answer")
 	}
-	crew.Wait()
 }
 
 const deepest = 1<<16 - 2
@@ -348,7 +321,7 @@ func FuzzAny(f *testing.F) {
 		if ok {
 			is(t, v, a, nil, member.Fits)
 		}
-		for _, of := range []api.Type{a, single(a)} {
+		for _, of := range []api.Type{a, specimen.Single(a)} {
 			check(t, nudged(v, pick), of)
 			check(t, specimen.Drawn(pick, 4), of)
 		}

@@ -5,6 +5,7 @@ import (
 	"iter"
 	"slices"
 	"strings"
+	"sync"
 
 	"hallmark/api"
 )
@@ -147,4 +148,16 @@ func Alike(a, b api.Value) bool {
 // alikeOutside says it of all but the items.
 func alikeOutside(a, b api.Value) bool {
 	return a.Kind == b.Kind && a.Num == b.Num && a.Text == b.Text && slices.Equal(a.Keys, b.Keys)
+}
+
+// AtOnce says whether something that is asked by eight at once is always answered as one alone is.
+func AtOnce(told func() string) bool {
+	want := told()
+	var got [8]string
+	var crew sync.WaitGroup
+	for i := range got {
+		crew.Go(func() { got[i] = told() })
+	}
+	crew.Wait()
+	return !slices.ContainsFunc(got[:], func(one string) bool { return one != want })
 }

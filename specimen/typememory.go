@@ -32,6 +32,13 @@ func roomyObj(o api.Obj) api.Obj {
 	return o
 }
 
+// EmptyListed is a type with an empty list for each one that is nil at the top.
+func EmptyListed(t api.Type) api.Type {
+	t.Nums, t.Texts = append([]api.Span{}, t.Nums...), append([]string{}, t.Texts...)
+	t.Arrays, t.Objects = append([]api.Arr{}, t.Arrays...), append([]api.Obj{}, t.Objects...)
+	return t
+}
+
 // UntouchedType says whether a type is still what RoomyType made of this one, its spare room too.
 func UntouchedType(t, before api.Type) bool {
 	arrs := func(a, b api.Arr) bool { return a.Min == b.Min && a.Max == b.Max && UntouchedType(a.Item, b.Item) }

@@ -3,6 +3,7 @@ package specimen
 import (
 	"math/big"
 	"slices"
+	"strconv"
 	"strings"
 
 	"hallmark/api"
@@ -188,7 +189,17 @@ func In(v api.Value, t api.Type) bool {
 }
 
 func inSpan(n string, s api.Span) bool {
-	return (s.Low == "" || whole(s.Low).Cmp(whole(n)) <= 0) && (s.High == "" || whole(n).Cmp(whole(s.High)) <= 0)
+	return (s.Low == "" || atMost(s.Low, n)) && (s.High == "" || atMost(n, s.High))
+}
+
+// atMost says whether a number isn't above another one.
+func atMost(a, b string) bool {
+	x, large := strconv.Atoi(a)
+	y, larger := strconv.Atoi(b)
+	if large == nil && larger == nil { // most are, and this is quicker
+		return x <= y
+	}
+	return whole(a).Cmp(whole(b)) <= 0
 }
 
 func inArr(items []api.Value, a api.Arr) bool {

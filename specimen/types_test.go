@@ -5,6 +5,7 @@ import (
 	"testing"
 
 	"hallmark/api"
+	"hallmark/shape"
 	"hallmark/specimen"
 )
 
@@ -137,5 +138,37 @@ func TestDrawnOf(t *testing.T) {
 		if ok == specimen.AlikeTypes(a, api.Type{}) || ok && !specimen.In(v, a) {
 			t.Errorf("%v of %v", v, a)
 		}
+	}
+}
+
+// What is nudged is well shaped, most often another type, and what it was made of stays as it was.
+func TestNudgedType(t *testing.T) {
+	pick := specimen.Source(rand.New(rand.NewSource(6)).Intn)
+	others := 0
+	for _, a := range specimen.WellShapedTypes(pick, 3000) {
+		given := specimen.RoomyType(a)
+		b := specimen.NudgedType(given, pick)
+		if !shape.Formed(b) || !specimen.UntouchedType(given, a) {
+			t.Errorf("%v, nudged: %v", a, b)
+		}
+		if !specimen.AlikeTypes(a, b) {
+			others++
+		}
+	}
+	if others < 2000 {
+		t.Errorf("%d were changed", others)
+	}
+}
+
+// Of several alternatives the first one stays, in each part.
+func TestSingle(t *testing.T) {
+	null := api.Type{Null: true}
+	two := func(in api.Type) api.Type {
+		return specimen.Objects(specimen.Obj(in, []string{"a!"}, in), specimen.Obj(null, nil))
+	}
+	one := func(in api.Type) api.Type { return specimen.Objects(specimen.Obj(in, []string{"a!"}, in)) }
+	given := two(specimen.Arrays(two(null), 1, 1))
+	if got := specimen.Single(given); !specimen.AlikeTypes(got, one(specimen.Arrays(one(null), 1, 1))) || len(given.Objects) != 2 {
+		t.Errorf("%v", got)
 	}
 }
