@@ -76,7 +76,7 @@ func check(t *testing.T, a, b api.Type) {
 	t.Helper()
 	belowIs(t, a, b, belowOf(a, b))
 	belowIs(t, b, a, belowOf(b, a))
-	_, common := commonOf(a, b)
+	_, common := specimen.CommonOf(a, b)
 	apartIs(t, a, b, !common)
 }
 
@@ -104,7 +104,7 @@ func belowIs(t *testing.T, a, b api.Type, want bool) {
 func isApart(t *testing.T, a, b api.Type, want bool) {
 	t.Helper()
 	apartIs(t, a, b, want)
-	if _, common := commonOf(a, b); !shape.Formed(a) || !shape.Formed(b) || common == want {
+	if _, common := specimen.CommonOf(a, b); !shape.Formed(a) || !shape.Formed(b) || common == want {
 		t.Errorf("%s, %s: by the words not %v", short(a), short(b), want)
 	}
 }
@@ -124,7 +124,7 @@ func apartIs(t *testing.T, a, b api.Type, want bool) {
 func rooms(a api.Type) []api.Type {
 	ab := []string{"a", "b"}
 	out := []api.Type{objects(objOf(never, ab[:1], a)), objects(objOf(a, nil)), objects(objOf(a, []string{"a!", "b"}, null, every)), objects(objOf(never, []string{"c!"}, every), objOf(null, ab, null, a)), objects(objOf(never, ab, a, a), objOf(anyText, []string{"a!"}, truth))}
-	if !isNever(a) { // no array has such an item, and no field that must be there
+	if !specimen.IsNever(a) { // no array has such an item, and no field that must be there
 		out = append(out, specimen.AroundType(a)...)
 		out = append(out, arrays(a, 1, 1), arrays(a, 0, math.MaxInt), objects(objOf(a, []string{"b!"}, a)))
 	}
@@ -384,7 +384,7 @@ func hulls(a, b api.Type) [][2]api.Type {
 func isApartEverywhere(t *testing.T, a, b api.Type, want bool) {
 	t.Helper()
 	isApart(t, a, b, want)
-	if isNever(a) || isNever(b) {
+	if specimen.IsNever(a) || specimen.IsNever(b) {
 		return
 	}
 	for _, two := range slices.Concat(hulls(a, b), hulls(b, a)) {

@@ -52,7 +52,7 @@ func TestP12_4Values(t *testing.T) {
 // hasAll: values of a type, drawn, are of another one.
 func hasAll(t *testing.T, a, b api.Type, pick specimen.Source) {
 	t.Helper()
-	for _, v := range strays(a, b) {
+	for _, v := range specimen.Strays(a, b) {
 		if !specimen.In(v, b) {
 			t.Errorf("Below(%s, %s), but %s isn't of it", short(a), short(b), short(v))
 		}
@@ -99,7 +99,7 @@ func TestP12_4Itself(t *testing.T) {
 	all := specimen.WellShapedTypes(random(6), 2000)
 	for _, a := range all {
 		for _, b := range append(rooms(a), a) {
-			if !below.Below(b, b) || below.Apart(b, b) != isNever(b) {
+			if !below.Below(b, b) || below.Apart(b, b) != specimen.IsNever(b) {
 				t.Errorf("%s and itself: %v, %v", short(b), below.Below(b, b), below.Apart(b, b))
 			}
 		}
@@ -121,7 +121,7 @@ func TestP12_4Three(t *testing.T) {
 			if !below.Below(a, c) {
 				t.Errorf("%s, %s, %s", short(a), short(b), short(c))
 			}
-			if !specimen.AlikeTypes(a, b) && !specimen.AlikeTypes(b, c) && !isNever(a) && !c.All {
+			if !specimen.AlikeTypes(a, b) && !specimen.AlikeTypes(b, c) && !specimen.IsNever(a) && !c.All {
 				steps++
 			}
 		}
@@ -147,7 +147,7 @@ func TestP12_4Apart(t *testing.T) {
 				if !below.Apart(two[0], third) {
 					t.Errorf("%s, %s, %s", short(two[0]), short(two[1]), short(third))
 				}
-				if !isNever(two[0]) && !isNever(third) && len(two[0].Arrays)+len(two[0].Objects) > 0 && len(third.Arrays)+len(third.Objects) > 0 {
+				if !specimen.IsNever(two[0]) && !specimen.IsNever(third) && len(two[0].Arrays)+len(two[0].Objects) > 0 && len(third.Arrays)+len(third.Objects) > 0 {
 					rows++
 				}
 			}

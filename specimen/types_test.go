@@ -172,3 +172,74 @@ func TestSingle(t *testing.T) {
 		t.Errorf("%v", got)
 	}
 }
+
+// What is looked for is of the first type, and one that isn't of the second is found, where there is one.
+func TestStrays(t *testing.T) {
+	null := api.Type{Null: true}
+	stray := func(a, b api.Type) bool {
+		found := false
+		for _, v := range specimen.Strays(a, b) {
+			if !specimen.In(v, a) {
+				t.Errorf("%v isn't of %s", v, specimen.Told(a))
+			}
+			found = found || !specimen.In(v, b)
+		}
+		return found
+	}
+	small, wide := specimen.Nums("1", "2"), specimen.Nums("", "2")
+	for i, two := range [][2]api.Type{{small, wide}, {null, {Null: true, True: true}}, {specimen.Texts("a"), specimen.Texts("a", "b")}, {specimen.Arrays(small, 1, 2), specimen.Arrays(wide, 0, 2)}, {specimen.Objects(specimen.Obj(api.Type{}, []string{"a!"}, small)), specimen.Objects(specimen.Obj(api.Type{}, []string{"a"}, wide))}, {{}, null}, {null, specimen.Every()}} {
+		if stray(two[0], two[1]) || !stray(two[1], two[0]) {
+			t.Errorf("%d: %s, %s", i, specimen.Told(two[0]), specimen.Told(two[1]))
+		}
+	}
+}
+
+// What is common to two types is of both.
+func TestCommonOf(t *testing.T) {
+	pick := specimen.Source(rand.New(rand.NewSource(7)).Intn)
+	all := specimen.WellShapedTypes(pick, 20)
+	found := 0
+	for _, a := range all {
+		for _, b := range all {
+			if v, ok := specimen.CommonOf(a, b); ok {
+				found++
+				if !specimen.In(v, a) || !specimen.In(v, b) {
+					t.Errorf("%v of %s and %s", v, specimen.Told(a), specimen.Told(b))
+				}
+			}
+		}
+	}
+	if found < 1000 {
+		t.Errorf("%d pairs had something in common", found)
+	}
+}
+
+// Crowded types are well shaped, and many have more than a normal form has.
+func TestCrowdedType(t *testing.T) {
+	pick := specimen.Source(rand.New(rand.NewSource(8)).Intn)
+	var beyond [3]int
+	for range 1000 {
+		a := specimen.CrowdedType(pick, 2)
+		if !shape.Formed(a) || shape.Height(a) > 2 {
+			t.Errorf("%s", specimen.Told(a))
+		}
+		for i, is := range []bool{len(a.Texts) > 16, len(a.Objects) > 4, len(a.Objects) > 0 && len(a.Objects[0].Names) > 12} {
+			if is {
+				beyond[i]++
+			}
+		}
+	}
+	if min(beyond[0], beyond[1], beyond[2]) < 30 {
+		t.Errorf("beyond the limits: %v", beyond)
+	}
+}
+
+func TestTold(t *testing.T) {
+	a := api.Type{Null: true, Nums: []api.Span{{Low: "1"}}, Texts: []string{"x"}, Arrays: []api.Arr{{Item: specimen.Every(), Max: -1}}, Objects: []api.Obj{specimen.Obj(api.Type{}, []string{"a!", "b"}, api.Type{True: true}, api.Type{AnyText: true})}}
+	if got := specimen.Told(a); got != `{null 1.. "x" [0--1 every] O(a! true, b text | {})}` {
+		t.Errorf("%s", got)
+	}
+	if got := specimen.Told(specimen.Objects(api.Obj{Names: []string{"a"}})); got != "O(a | {})" {
+		t.Errorf("%s", got)
+	}
+}
