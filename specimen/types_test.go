@@ -243,3 +243,65 @@ func TestTold(t *testing.T) {
 		t.Errorf("%s", got)
 	}
 }
+
+// Types at the limits of a normal form, and just beyond each of them, at the top and inside.
+func TestInLimits(t *testing.T) {
+	null, never := api.Type{Null: true}, api.Type{}
+	wide := func(many int) api.Type { return specimen.Objects(specimen.Wide(many, null, true, never)) }
+	alternatives := func(many int) api.Type {
+		return specimen.Objects(make([]api.Obj, many)...)
+	}
+	full := specimen.Objects(specimen.Wide(12, wide(12), true, never))
+	for i, r := range []struct {
+		a     api.Type
+		is    bool
+		parts int
+	}{
+		{never, true, 1}, {specimen.Every(), true, 1}, {specimen.Texts(specimen.Named(16)...), true, 1}, {specimen.Texts(specimen.Named(17)...), false, 1}, {wide(12), true, 14}, {wide(13), false, 15}, {alternatives(4), true, 5}, {alternatives(5), false, 6}, {specimen.Nest(null, 8), true, 9}, {specimen.Nest(null, 9), false, 10}, {full, true, 170}, {specimen.Arrays(full, 0, -1), true, 171}, {specimen.Objects(full.Objects[0], specimen.Wide(12, specimen.Objects(api.Obj{}), true, never)), true, 195}, {specimen.Objects(full.Objects[0], full.Objects[0]), false, 339},
+	} {
+		if specimen.InLimits(r.a) != r.is || specimen.PartsOf(r.a) != r.parts {
+			t.Errorf("%d: %v, %d parts", i, specimen.InLimits(r.a), specimen.PartsOf(r.a))
+		}
+		if around := specimen.Objects(specimen.Obj(never, []string{"a"}, r.a)); i < 8 && specimen.InLimits(around) != r.is {
+			t.Errorf("%d, inside", i)
+		}
+	}
+}
+
+// What is shuffled has the same values, other places and some alternatives twice; what it was made of stays as it was.
+func TestShuffled(t *testing.T) {
+	pick := specimen.Source(rand.New(rand.NewSource(9)).Intn)
+	others := 0
+	for _, a := range specimen.WellShapedTypes(pick, 300) {
+		given := specimen.RoomyType(a)
+		b := specimen.Shuffled(given, pick)
+		if !shape.Formed(b) || !specimen.UntouchedType(given, a) || len(b.Objects) != len(a.Objects)+min(len(a.Objects), 1) {
+			t.Errorf("%s, shuffled: %s", specimen.Told(a), specimen.Told(b))
+		}
+		if len(a.Objects) > 1 && !specimen.AlikeTypes(specimen.Objects(b.Objects[:len(a.Objects)]...), specimen.Objects(a.Objects...)) {
+			others++
+		}
+		for range 5 {
+			if v, ok := specimen.DrawnOf(a, pick, specimen.Kinds()...); ok && !specimen.In(v, b) {
+				t.Errorf("%v isn't of %s any more", v, specimen.Told(b))
+			}
+		}
+	}
+	if others < 50 {
+		t.Errorf("%d have another order", others)
+	}
+}
+
+// A value of one type alone is found, where there is one.
+func TestFoundStray(t *testing.T) {
+	pick := specimen.Source(rand.New(rand.NewSource(10)).Intn)
+	for _, a := range specimen.WellShapedTypes(pick, 100) {
+		if v, found := specimen.FoundStray(a, a, pick); found {
+			t.Errorf("%v of %s", v, specimen.Told(a))
+		}
+		v, found := specimen.FoundStray(specimen.Every(), a, pick)
+		if found && specimen.In(v, a) || !found && shape.Kinds(a) != 127 {
+			t.Errorf("%v, %v of %s", v, found, specimen.Told(a))
+		}
+	}
+}

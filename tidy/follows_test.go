@@ -16,20 +16,8 @@ import (
 // hasAll: values of a type, drawn and looked for, are of another one.
 func hasAll(t *testing.T, what string, a, b api.Type, pick specimen.Source) {
 	t.Helper()
-	var all []api.Value
-	if partsOf(a)*partsOf(b) < 1000 { // in large types the search takes long
-		all = specimen.Strays(a, b)
-	}
-	for range 8 {
-		if v, ok := specimen.DrawnOf(a, pick, specimen.Kinds()...); ok {
-			all = append(all, v)
-		}
-	}
-	for _, v := range all {
-		if !specimen.In(v, b) {
-			t.Errorf("%s: %s and %s: %.300s is of the first alone", what, short(a), short(b), fmt.Sprint(v))
-			return
-		}
+	if v, found := specimen.FoundStray(a, b, pick); found {
+		t.Errorf("%s: %s and %s: %.300s is of the first alone", what, short(a), short(b), fmt.Sprint(v))
 	}
 }
 
@@ -46,14 +34,14 @@ func follows(t *testing.T, a, b api.Type, height int, pick specimen.Source) {
 	hasAll(t, "Cut", a, cut, pick)
 	hasAll(t, "Sum", a, sum, pick)
 	hasAll(t, "Sum", b, sum, pick)
-	if within(a) && partsOf(a) <= api.MaxPieces && shape.Height(a) <= api.MaxHeight {
+	if inLimits(a) {
 		hasAll(t, "Tidy has more", tidied, a, pick)
 	}
 	twice, e := tidy.Tidy(tidied)
 	if e != api.OK || !alike(twice, tidied) || !tidy.Is(tidied) {
 		t.Errorf("Tidy of Tidy of %s: %s, then %s", short(a), short(tidied), short(twice))
 	}
-	if shape.Height(tidied) > api.MaxHeight || partsOf(tidied) > api.MaxPieces || !within(tidied) {
+	if !inLimits(tidied) {
 		t.Errorf("Tidy(%s): the limits", short(a))
 	}
 	if isNever(tidied) != isNever(a) || shape.Height(cut) > height || shape.Height(a) <= height && !alike(cut, a) {
@@ -64,33 +52,9 @@ func follows(t *testing.T, a, b api.Type, height int, pick specimen.Source) {
 			t.Errorf("%s isn't well shaped", short(answer))
 		}
 	}
-	if mixed, e := tidy.Tidy(shuffled(a, pick)); e != api.OK || !alike(mixed, tidied) {
+	if mixed, e := tidy.Tidy(specimen.Shuffled(a, pick)); e != api.OK || !alike(mixed, tidied) {
 		t.Errorf("%s, in another order: %s, not %s", short(a), short(mixed), short(tidied))
 	}
-}
-
-// within says whether no part of a type has more texts, alternatives or names than allowed.
-func within(a api.Type) bool {
-	right := len(a.Texts) <= api.MaxTexts && len(a.Objects) <= api.MaxAlts
-	for _, o := range a.Objects {
-		right = right && len(o.Names) <= api.MaxFields
-	}
-	withInner(a, func(in api.Type) api.Type { right = right && within(in); return in })
-	return right
-}
-
-// shuffled is a type with its alternatives in another order, some of them twice, in each part.
-func shuffled(a api.Type, pick specimen.Source) api.Type {
-	a = withInner(a, func(in api.Type) api.Type { return shuffled(in, pick) })
-	l := a.Objects
-	for i := range l {
-		k := pick(i + 1)
-		l[i], l[k] = l[k], l[i]
-	}
-	if len(l) > 0 {
-		a.Objects = append(l, l[pick(len(l))])
-	}
-	return a
 }
 
 func TestP11_5Drawn(t *testing.T) {
@@ -121,7 +85,7 @@ func TestP11_5Limits(t *testing.T) {
 	pick := random(13)
 	full := objects(wide(12, null, false, truth), objOf(never, []string{"x!"}, texts(named(16)...)), objOf(null, []string{"y!"}, both), objOf(null, []string{"z!"}, both))
 	for _, a := range []api.Type{full, texts(named(16)...), specimen.NestedType(null, 8), sized(8, 200), sized(2, 200), nest(full, 6), nest(texts(named(16)...), 8), objects(wide(12, null, true, truth))} {
-		if !within(a) {
+		if !inLimits(a) {
 			t.Fatalf("%s is beyond the limits", short(a))
 		}
 		follows(t, a, null, 3, pick)

@@ -84,14 +84,6 @@ func checkRows(t *testing.T, rows []row) {
 	}
 }
 
-// nest is arrays nested so deep, around a type.
-func nest(a api.Type, deep int) api.Type {
-	for range deep {
-		a = arrays(a, 0, -1)
-	}
-	return a
-}
-
 // threes is objects of three fields, nested so deep, around a type.
 func threes(a api.Type, deep int) api.Type {
 	for range deep {
@@ -118,15 +110,6 @@ func TestP11_1Examples(t *testing.T) {
 	if got, e := tidy.Tidy(texts("b", "a")); e != api.ErrShape || !isNever(got) {
 		t.Errorf("%v, %v", got, e)
 	}
-}
-
-// named are so many names that rise.
-func named(many int) []string {
-	var out []string
-	for i := range many {
-		out = append(out, fmt.Sprintf("%05d", i))
-	}
-	return out
 }
 
 // single is an alternative of one field that is null, and no others.
@@ -187,11 +170,6 @@ func TestP11_1Texts(t *testing.T) {
 	isTidied(t, objects(objOf(anyText, []string{"a", "b!"}, y, y)), objects(objOf(anyText, []string{"b!"}, anyText)))
 	a := api.Type{Null: true, Nums: anyNumber.Nums, Texts: y.Texts, Arrays: arrays(y, 1, 2).Arrays}
 	isTidiedEverywhere(t, a, api.Type{Null: true, Nums: anyNumber.Nums, AnyText: true, Arrays: arrays(anyText, 1, 2).Arrays})
-}
-
-// wide is an alternative of so many fields of a type, all of which must be there or none.
-func wide(many int, field api.Type, must bool, rest api.Type) api.Obj {
-	return api.Obj{Names: named(many), Fields: slices.Repeat([]api.Type{field}, many), Must: slices.Repeat([]bool{must}, many), Rest: rest}
 }
 
 // with is an alternative with another field, or the same with another must.

@@ -16,6 +16,8 @@ var (
 	never, every, null, truth           = api.Type{}, specimen.Every(), api.Type{Null: true}, api.Type{True: true}
 	both, anyNumber, anyText, laid      = api.Type{Null: true, True: true}, nums("", ""), api.Type{AnyText: true}, specimen.LaidOut()
 	alike, isNever                      = specimen.AlikeTypes, specimen.IsNever
+	named, wide, nest                   = specimen.Named, specimen.Wide, specimen.Nest
+	withInner, partsOf, inLimits        = specimen.WithInner, specimen.PartsOf, specimen.InLimits
 )
 
 func random(seed int64) specimen.Source { return rand.New(rand.NewSource(seed)).Intn }
@@ -93,28 +95,6 @@ func cutOf(a api.Type, height int) api.Type {
 		return every
 	}
 	return withInner(a, func(in api.Type) api.Type { return cutOf(in, height-1) })
-}
-
-// withInner is a type with others in the place of those inside.
-func withInner(a api.Type, become func(api.Type) api.Type) api.Type {
-	a.Arrays, a.Objects = slices.Clone(a.Arrays), slices.Clone(a.Objects)
-	for i, arr := range a.Arrays {
-		a.Arrays[i].Item = become(arr.Item)
-	}
-	for i, o := range a.Objects {
-		a.Objects[i].Rest, a.Objects[i].Fields = become(o.Rest), slices.Clone(o.Fields)
-		for k, field := range o.Fields {
-			a.Objects[i].Fields[k] = become(field)
-		}
-	}
-	return a
-}
-
-// partsOf is how many parts a type has.
-func partsOf(a api.Type) int {
-	many := 1
-	withInner(a, func(in api.Type) api.Type { many += partsOf(in); return in })
-	return many
 }
 
 // normOf is the normal form of a type.
