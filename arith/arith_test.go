@@ -20,27 +20,24 @@ type call struct {
 	want  func(l []api.Value) answer
 }
 
-// answered is an answer in one.
-func answered(v, fault api.Value, ok bool) answer { return answer{v, fault, ok} }
-
 // doing is Do of an operation, or of what is none.
 func doing(op int) call {
-	return call{fmt.Sprintf("Do of %d", op), 2, func(l []api.Value) answer { return answered(arith.Do(op, l[0], l[1])) }, func(l []api.Value) answer { return doOf(op, l[0], l[1]) }}
+	return call{fmt.Sprintf("Do of %d", op), 2, func(l []api.Value) answer { return specimen.Answered(arith.Do(op, l[0], l[1])) }, func(l []api.Value) answer { return doOf(op, l[0], l[1]) }}
 }
 
 var (
-	negative = call{"Neg", 1, func(l []api.Value) answer { return answered(arith.Neg(l[0])) }, func(l []api.Value) answer { return negOf(l[0]) }}
-	indexing = call{"Index", 2, func(l []api.Value) answer { return answered(arith.Index(l[0], l[1])) }, func(l []api.Value) answer { return indexOf(l[0], l[1]) }}
-	slicing  = call{"Slice", 3, func(l []api.Value) answer { return answered(arith.Slice(l[0], l[1], l[2])) }, func(l []api.Value) answer { return sliceOf(l[0], l[1], l[2]) }}
+	negative = call{"Neg", 1, func(l []api.Value) answer { return specimen.Answered(arith.Neg(l[0])) }, func(l []api.Value) answer { return negOf(l[0]) }}
+	indexing = call{"Index", 2, func(l []api.Value) answer { return specimen.Answered(arith.Index(l[0], l[1])) }, func(l []api.Value) answer { return indexOf(l[0], l[1]) }}
+	slicing  = call{"Slice", 3, func(l []api.Value) answer { return specimen.Answered(arith.Slice(l[0], l[1], l[2])) }, func(l []api.Value) answer { return sliceOf(l[0], l[1], l[2]) }}
 	each     = call{"Each", 1, func(l []api.Value) answer { return listed(arith.Each(l[0])) }, func(l []api.Value) answer { return eachOf(l[0]) }}
 )
 
 // listed is Each's answer with the list as an array, where there is one.
 func listed(l []api.Value, fault api.Value, ok bool) answer {
 	if !ok && len(l) == 0 {
-		return answer{fault: fault}
+		return answer{Fault: fault}
 	}
-	return answer{list(l...), fault, ok}
+	return specimen.Answered(list(l...), fault, ok)
 }
 
 // allCalls are those of each operation, and the others.
@@ -58,25 +55,11 @@ func short(what ...any) string {
 	return out[:min(len(out), 1000)]
 }
 
-// check holds a call to the words, and to the rules of memory: what is handed in stays as it was, and two answers share nothing with it, with one another or within themselves.
+// check holds a call to the words, and to the rules of memory.
 func (c call) check(t *testing.T, l ...api.Value) {
 	t.Helper()
-	l = l[:c.takes]
-	given := specimen.Roomy(list(l...))
-	want, got := c.want(l), c.do(given.Items)
-	if !alike(got, want) {
-		t.Errorf("%s of %s = %s, want %s", c.name, short(l), short(told(got)), short(told(want)))
-	}
-	if !specimen.Untouched(given, list(l...)) {
-		t.Errorf("%s of %s changed what it was given: %s", c.name, short(l), short(given))
-	}
-	again := c.do(given.Items)
-	if !specimen.PlacesOf(got.v, got.fault, again.v, again.fault).Apart(specimen.PlacesOf(given)) {
-		t.Errorf("%s of %s: the memory of %s isn't its own", c.name, short(l), short(told(got)))
-	}
-	specimen.Scribble(got.v)
-	if !alike(again, want) || !alike(c.do(given.Items), want) || !specimen.Untouched(given, list(l...)) {
-		t.Errorf("%s of %s: what is written into an answer is seen elsewhere", c.name, short(l))
+	if wrong := (specimen.Call{Do: c.do, Want: c.want}).Wrong(l[:c.takes]...); wrong != "" {
+		t.Errorf("%s of %s: %s", c.name, short(l[:c.takes]), short(wrong))
 	}
 }
 
@@ -87,26 +70,10 @@ func (c call) is(t *testing.T, want string, l ...string) {
 	for _, s := range l {
 		values = append(values, js(s))
 	}
-	if got := told(c.do(values)); got != want {
+	if got := c.do(values).Told(); got != want {
 		t.Errorf("%s of %s = %s, want %s", c.name, strings.Join(l, ", "), got, want)
 	}
 	c.check(t, values...)
-}
-
-// ofEachKind are three values of each kind, by the kinds' numbers; the numbers are above 0.
-func ofEachKind() [7][3]api.Value {
-	return [7][3]api.Value{
-		{}, {kind(api.False), kind(api.False), kind(api.False)}, {kind(api.True), kind(api.True), kind(api.True)},
-		{num("1"), num("7"), num("12")}, {text(""), text("a"), text("é,b")}, {list(), js(`[1,"a",[2]]`), js(`[null,{"a":1},1]`)}, {object(nil), js(`{"a":1}`), js(`{"a":{"b":2},"c":[]}`)},
-	}
-}
-
-func allOfEachKind() []api.Value {
-	var out []api.Value
-	for _, of := range ofEachKind() {
-		out = append(out, of[:]...)
-	}
-	return out
 }
 
 func TestP20_1Fault(t *testing.T) {
@@ -126,7 +93,7 @@ func TestP20_1Fault(t *testing.T) {
 
 // What isn't well shaped, at the top or inside, in each place, beside values of each kind.
 func TestP20_2Shape(t *testing.T) {
-	right := allOfEachKind()
+	right := specimen.AllOfEachKind()
 	pick := random(202)
 	for _, bad := range specimen.Wrong() {
 		for _, c := range allCalls() {
@@ -137,7 +104,7 @@ func TestP20_2Shape(t *testing.T) {
 				}
 				l[at] = bad
 				if got := c.do(l); !alike(got, answer{}) {
-					t.Errorf("%s of %s = %s, want neither", c.name, short(l[:c.takes]), told(got))
+					t.Errorf("%s of %s = %s, want neither", c.name, short(l[:c.takes]), got.Told())
 				}
 				c.check(t, l...)
 			}
@@ -149,11 +116,11 @@ func TestP20_2Shape(t *testing.T) {
 func TestP20_2ShapeBesideAll(t *testing.T) {
 	for _, bad := range append(specimen.Misshapen(), specimen.Around(kind(9))...) {
 		for _, c := range allCalls() {
-			for _, other := range allOfEachKind() {
+			for _, other := range specimen.AllOfEachKind() {
 				for _, l := range [][]api.Value{{bad, other, other}, {other, bad, other}, {other, other, bad}, {other, bad, bad}, {bad, bad, other}, {bad, bad, bad}} {
 					spoilt := slices.ContainsFunc(l[:c.takes], func(v api.Value) bool { return !formedOf(v) })
 					if got := c.do(l); spoilt != alike(got, answer{}) {
-						t.Errorf("%s of %s = %s", c.name, short(l[:c.takes]), told(got))
+						t.Errorf("%s of %s = %s", c.name, short(l[:c.takes]), got.Told())
 					}
 				}
 			}
@@ -173,10 +140,10 @@ func TestP20_2Operation(t *testing.T) {
 		}
 	}
 	for _, op := range strange {
-		for _, a := range allOfEachKind() {
+		for _, a := range specimen.AllOfEachKind() {
 			for _, b := range []api.Value{a, {}, num("1"), num("0"), text("a"), list(), object(nil), kind(9)} {
 				if got := doing(op).do([]api.Value{a, b}); !alike(got, answer{}) {
-					t.Errorf("Do(%d, %v, %v) = %s", op, a, b, told(got))
+					t.Errorf("Do(%d, %v, %v) = %s", op, a, b, got.Told())
 				}
 			}
 		}
@@ -210,18 +177,18 @@ func TestP20_3Kinds(t *testing.T) {
 // checkKinds holds an operation to a sign, on all values of two kinds.
 func checkKinds(t *testing.T, op, x, y int, sign byte) {
 	t.Helper()
-	for _, a := range ofEachKind()[x] {
-		for _, b := range ofEachKind()[y] {
+	for _, a := range specimen.OfEachKind()[x] {
+		for _, b := range specimen.OfEachKind()[y] {
 			got := doing(op).do([]api.Value{a, b})
-			right := got.ok && got.v.Kind == int(sign-'0')
+			right := got.Ok && got.V.Kind == int(sign-'0')
 			switch sign {
 			case '!':
 				right = alike(got, fails(opWords()[op]))
 			case '?':
-				right = got.ok && (got.v.Kind == api.False || got.v.Kind == api.True)
+				right = got.Ok && (got.V.Kind == api.False || got.V.Kind == api.True)
 			}
 			if !right {
-				t.Errorf("Do(%d, %v, %v) = %s, want %c", op, a, b, told(got), sign)
+				t.Errorf("Do(%d, %v, %v) = %s, want %c", op, a, b, got.Told(), sign)
 			}
 			doing(op).check(t, a, b)
 		}
@@ -273,7 +240,7 @@ func TestP20_3Repeated(t *testing.T) {
 		doing(api.Mul).is(t, row[2], row[0], row[1])
 		doing(api.Mul).is(t, row[2], row[1], row[0])
 	}
-	for _, n := range far() {
+	for _, n := range specimen.Far() {
 		for _, s := range []string{"", "a", "é", "abcdefgh"} {
 			doing(api.Mul).check(t, text(s), num(n))
 			doing(api.Mul).check(t, num(n), text(s))
@@ -296,7 +263,7 @@ func TestP20_3Heavy(t *testing.T) {
 					right = alike(got, answer{})
 				}
 				if !right {
-					t.Errorf("%d times a text of %d bytes: %v, a text of %d bytes", times, len(s), got.ok, len(got.v.Text))
+					t.Errorf("%d times a text of %d bytes: %v, a text of %d bytes", times, len(s), got.Ok, len(got.V.Text))
 				}
 				doing(api.Mul).check(t, l...)
 			}
@@ -342,7 +309,7 @@ func TestP20_4Neg(t *testing.T) {
 	} {
 		negative.is(t, row[1], row[0])
 	}
-	for _, n := range far() {
+	for _, n := range specimen.Far() {
 		negative.check(t, num(n))
 	}
 }
@@ -357,8 +324,8 @@ func TestP20_5Index(t *testing.T) {
 	} {
 		indexing.is(t, row[2], row[0], row[1])
 	}
-	for _, of := range allOfEachKind() {
-		for _, key := range allOfEachKind() {
+	for _, of := range specimen.AllOfEachKind() {
+		for _, key := range specimen.AllOfEachKind() {
 			indexing.check(t, of, key)
 		}
 	}
@@ -379,14 +346,14 @@ func TestP20_6Slice(t *testing.T) {
 
 // Each kind of value cut, at bounds of each kind.
 func TestP20_6Kinds(t *testing.T) {
-	for _, of := range allOfEachKind() {
-		for _, from := range allOfEachKind() {
-			for _, to := range allOfEachKind() {
+	for _, of := range specimen.AllOfEachKind() {
+		for _, from := range specimen.AllOfEachKind() {
+			for _, to := range specimen.AllOfEachKind() {
 				slicing.check(t, of, from, to)
 				cut := of.Kind == api.Null || of.Kind == api.Text || of.Kind == api.Array
 				isBound := func(v api.Value) bool { return v.Kind == api.Null || v.Kind == api.Number }
-				if got := slicing.do([]api.Value{of, from, to}); got.ok != (cut && isBound(from) && isBound(to)) || !got.ok && !alike(got, fails("slice")) {
-					t.Errorf("Slice(%v, %v, %v) = %s", of, from, to, told(got))
+				if got := slicing.do([]api.Value{of, from, to}); got.Ok != (cut && isBound(from) && isBound(to)) || !got.Ok && !alike(got, fails("slice")) {
+					t.Errorf("Slice(%v, %v, %v) = %s", of, from, to, got.Told())
 				}
 			}
 		}
@@ -426,8 +393,8 @@ func TestP20_6Bounds(t *testing.T) {
 		}
 	}
 	for _, of := range rows(5) {
-		for _, n := range far() {
-			for _, bound := range []api.Value{{}, whole(2), whole(-2), num(n), num(far()[3])} {
+		for _, n := range specimen.Far() {
+			for _, bound := range []api.Value{{}, whole(2), whole(-2), num(n), num(specimen.Far()[3])} {
 				slicing.check(t, of, num(n), bound)
 				slicing.check(t, of, bound, num(n))
 			}

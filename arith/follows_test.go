@@ -47,12 +47,12 @@ func checkAnswers(t *testing.T, l ...api.Value) {
 		}
 		var right bool
 		switch {
-		case got.ok:
-			right = formedOf(got.v) && specimen.Alike(got.fault, api.Value{}) && value.Weight(got.v) <= most
+		case got.Ok:
+			right = formedOf(got.V) && specimen.Alike(got.Fault, api.Value{}) && value.Weight(got.V) <= most
 		case repeated:
 			right = alike(got, answer{})
 		default:
-			right = formedOf(got.fault) && got.fault.Kind == api.Text && specimen.Alike(got.v, api.Value{})
+			right = formedOf(got.Fault) && got.Fault.Kind == api.Text && specimen.Alike(got.V, api.Value{})
 		}
 		if !right {
 			t.Errorf("%s of %s = %s", c.name, short(given), short(got))
@@ -71,7 +71,7 @@ func checkSides(t *testing.T, a, b api.Value) {
 		if holds[op] && op != api.Ne && op != api.Le && op != api.Ge {
 			many++
 		}
-		if !specimen.Alike(v, truth(holds[op]).v) {
+		if !specimen.Alike(v, truth(holds[op]).V) {
 			t.Errorf("Do(%d, %s, %s) = %s", op, short(a), short(b), short(v))
 		}
 	}
@@ -134,39 +134,6 @@ func checkFollows(t *testing.T, a, b, c api.Value) {
 	}
 }
 
-// byKind are drawn values of each kind.
-func byKind(pick specimen.Source, many int) [7][]api.Value {
-	var out [7][]api.Value
-	for _, v := range specimen.WellShaped(pick, many) {
-		out[v.Kind] = append(out[v.Kind], v)
-	}
-	for range many {
-		out[api.Text] = append(out[api.Text], text(drawnText(pick)))
-		out[api.Number] = append(out[api.Number], num(drawnNumber(pick)))
-		v := specimen.DrawnObject(pick, 3)
-		out[api.Object] = append(out[api.Object], v)
-	}
-	return out
-}
-
-// drawnText is of few runes, so that parts of it stand in it several times.
-func drawnText(pick specimen.Source) string {
-	var out strings.Builder
-	for range pick(8) {
-		out.WriteString([]string{"a", "b", ",", "é", "😀"}[pick(5)])
-	}
-	return out.String()
-}
-
-// drawnNumber is small, or one at an edge.
-func drawnNumber(pick specimen.Source) string {
-	if pick(3) == 0 {
-		all := slices.Concat(far(), specimen.Numbers())
-		return all[pick(len(all))]
-	}
-	return whole(pick(25) - 12).Num
-}
-
 // three are drawn values that fit one another more often than not.
 func three(pick specimen.Source, of [7][]api.Value) [3]api.Value {
 	one := func(kind int) api.Value { return of[kind][pick(len(of[kind]))] }
@@ -202,7 +169,7 @@ func keyed(pick specimen.Source, v api.Value) api.Value {
 
 func TestP20_8Follows(t *testing.T) {
 	pick := random(208)
-	of := byKind(pick, 1500)
+	of := specimen.ByKind(pick, 1500)
 	for range 20000 {
 		l := three(pick, of)
 		checkFollows(t, l[0], l[1], l[2])
@@ -219,7 +186,7 @@ func TestP20_8Sides(t *testing.T) {
 }
 
 func TestP20_8Numbers(t *testing.T) {
-	all := slices.Concat(far(), specimen.Numbers())
+	all := slices.Concat(specimen.Far(), specimen.Numbers())
 	for n := -12; n <= 12; n++ {
 		all = append(all, whole(n).Num)
 	}
@@ -259,7 +226,7 @@ func TestP20_8Weight(t *testing.T) {
 // Each call on drawn values, well shaped and spoilt.
 func TestP20_1P20_2P20_3P20_4P20_5P20_6P20_7Words(t *testing.T) {
 	pick := random(20)
-	of := byKind(pick, 1000)
+	of := specimen.ByKind(pick, 1000)
 	for range 6000 {
 		l := three(pick, of)
 		for _, c := range allCalls() {
@@ -285,7 +252,7 @@ func TestMemoryShared(t *testing.T) {
 			for _, c := range allCalls() {
 				want := c.want(l)
 				got, again := c.do(l), c.do(l)
-				if !alike(got, want) || !alike(again, want) || !specimen.PlacesOf(got.v, again.v).Apart(specimen.PlacesOf(given)) || !specimen.Untouched(given, v) {
+				if !alike(got, want) || !alike(again, want) || !specimen.PlacesOf(got.V, again.V).Apart(specimen.PlacesOf(given)) || !specimen.Untouched(given, v) {
 					t.Errorf("%s of %s = %s, and %s", c.name, short(l), short(got), short(again))
 				}
 			}
@@ -299,13 +266,13 @@ func TestEmptyLists(t *testing.T) {
 		v.Items, v.Keys = append([]api.Value{}, v.Items...), append([]string{}, v.Keys...)
 		return v
 	}
-	for _, a := range allOfEachKind() {
-		for _, b := range allOfEachKind() {
+	for _, a := range specimen.AllOfEachKind() {
+		for _, b := range specimen.AllOfEachKind() {
 			for _, c := range allCalls() {
 				want := c.do([]api.Value{a, b, b})
 				for _, l := range [][]api.Value{{filled(a), b, b}, {a, filled(b), b}, {a, b, filled(b)}, {filled(a), filled(b), filled(b)}} {
 					if got := c.do(l); !alike(got, want) {
-						t.Errorf("%s of %s = %s, want %s", c.name, short(l), told(got), told(want))
+						t.Errorf("%s of %s = %s, want %s", c.name, short(l), got.Told(), want.Told())
 					}
 				}
 			}
@@ -314,14 +281,14 @@ func TestEmptyLists(t *testing.T) {
 }
 
 func TestSameAtOnce(t *testing.T) {
-	of := byKind(random(2021), 30)
+	of := specimen.ByKind(random(2021), 30)
 	ok := specimen.AtOnce(func() string {
 		pick := random(2022)
 		var out strings.Builder
 		for range 300 {
 			l := three(pick, of)
 			for _, c := range allCalls() {
-				out.WriteString(told(c.do(l[:])) + "\n")
+				out.WriteString(c.do(l[:]).Told() + "\n")
 			}
 		}
 		return out.String()
@@ -346,7 +313,7 @@ func TestDeep(t *testing.T) {
 		}
 		for _, l := range deepRows(1 << 16) {
 			if got, want := c.do(l), c.want(l); !alike(got, want) {
-				t.Errorf("%s of what is very deep: %v, want %v", c.name, got.ok, want.ok)
+				t.Errorf("%s of what is very deep: %v, want %v", c.name, got.Ok, want.Ok)
 			}
 		}
 	}
@@ -397,7 +364,7 @@ func FuzzAny(f *testing.F) {
 	f.Fuzz(func(t *testing.T, data []byte) {
 		pick := specimen.Picks(data)
 		how := pick(8)
-		of := [7][]api.Value{{{}}, {kind(api.False)}, {kind(api.True)}, {num(drawnNumber(pick)), num(drawnNumber(pick))}, {text(drawnText(pick)), text(drawnText(pick))}}
+		of := [7][]api.Value{{{}}, {kind(api.False)}, {kind(api.True)}, {num(specimen.DrawnNumber(pick)), num(specimen.DrawnNumber(pick))}, {text(specimen.DrawnText(pick)), text(specimen.DrawnText(pick))}}
 		for range 2 {
 			array := list()
 			for range pick(5) {

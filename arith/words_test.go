@@ -10,26 +10,16 @@ import (
 	"unicode/utf8"
 
 	"hallmark/api"
-	"hallmark/reader"
 	"hallmark/specimen"
 	"hallmark/value"
-	"hallmark/writer"
 )
 
 // What stands in this file says the chapter's words once more, with numbers of any size, fields in maps and items one by one. The tests hold the package against it.
 
-// answer is what a call answers.
-type answer struct {
-	v, fault api.Value
-	ok       bool
-}
+type answer = specimen.Answer
 
-func is(v api.Value) answer    { return answer{v: v, ok: true} }
-func fails(word string) answer { return answer{fault: text(word)} }
-func truth(holds bool) answer  { return is(kind(map[bool]int{false: api.False, true: api.True}[holds])) }
-func alike(a, b answer) bool {
-	return a.ok == b.ok && specimen.Alike(list(a.v, a.fault), list(b.v, b.fault))
-}
+func alike(a, b answer) bool { return a.Alike(b) }
+
 func formedOf(l ...api.Value) bool { return value.Formed(list(l...)) }
 
 // opWords are the faults of those operations that have some; of the others nothing is one.
@@ -290,49 +280,13 @@ func faultOf(word string) api.Value {
 	return text(word)
 }
 
-// What follows makes values and tells them.
+// What follows makes values and answers.
 
-var num, text, list, object, kind = specimen.Num, specimen.Text, specimen.List, specimen.Object, specimen.Kind
+var (
+	num, text, list, object, kind = specimen.Num, specimen.Text, specimen.List, specimen.Object, specimen.Kind
+	is, fails, truth, js          = specimen.Is, specimen.Fails, specimen.Truth, specimen.JSON
+)
 
 func whole(n int) api.Value { return num(strconv.Itoa(n)) }
 
-// js is the value of a text of JSON.
-func js(s string) api.Value {
-	v, e, at := reader.One(s)
-	if e != api.OK {
-		panic(s + ", at " + strconv.Itoa(at))
-	}
-	return v
-}
-
-// told is an answer as a text: the value, the fault behind a !, or neither.
-func told(a answer) string {
-	v, e := writer.Text(a.v)
-	zeroes := specimen.Alike(a.v, api.Value{})
-	switch {
-	case a.ok && e == api.OK && specimen.Alike(a.fault, api.Value{}):
-		return v
-	case !a.ok && zeroes && a.fault.Kind == api.Text && formedOf(a.fault):
-		return "!" + a.fault.Text
-	case alike(a, answer{}):
-		return "neither"
-	}
-	return "a value beside a fault"
-}
-
 func random(seed int64) specimen.Source { return rand.New(rand.NewSource(seed)).Intn }
-
-// far are numbers far beyond any length, most of them near to where a machine's words end.
-func far() []string {
-	out := []string{"1" + strings.Repeat("0", 60), "99999999999999999999"}
-	for _, bits := range []uint{8, 16, 31, 32, 33, 62, 63, 64, 65, 128} {
-		for near := range 5 {
-			n := new(big.Int).Lsh(big.NewInt(1), bits)
-			out = append(out, n.Add(n, big.NewInt(int64(near-2))).String())
-		}
-	}
-	for _, s := range slices.Clone(out) {
-		out = append(out, "-"+s)
-	}
-	return out
-}
