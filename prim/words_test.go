@@ -35,7 +35,7 @@ func rowsOf() map[string]says {
 		"explode/0": ofText(func(s string) api.Value { return numbers([]rune(s)) }), "implode/0": implodeOf,
 		"startswith/1": ofTexts(func(s, a string) answer { return truth(beginsOf(s, a)) }), "endswith/1": ofTexts(func(s, a string) answer { return truth(endsOf(s, a)) }), "ltrimstr/1": trimOf(true), "rtrimstr/1": trimOf(false),
 		"split/1": ofTexts(splitOf), "join/1": joinOf, "indices/1": indicesOf, "reverse/0": reverseOf,
-		"sort/0": byItselfOf(sortByOf), "_sort_by/1": sortByOf, "_group_by/1": groupByOf, "_unique_by/1": uniqueByOf, "_min_by/1": minByOf, "_max_by/1": maxByOf, "min/0": byItselfOf(minByOf), "max/0": byItselfOf(maxByOf), "unique/0": byItselfOf(uniqueByOf),
+		"sort/0": byItselfOf(sortByOf), "_sort_by/1": sortByOf, "_group_by/1": groupByOf, "_unique_by/1": uniqueByOf, "_min_by/1": endOf(false), "_max_by/1": endOf(true), "min/0": byItselfOf(endOf(false)), "max/0": byItselfOf(endOf(true)), "unique/0": byItselfOf(uniqueByOf),
 		"add/0": addOf, "flatten/0": flattenOf, "transpose/0": transposeOf, "getpath/1": getpathOf, "setpath/2": setpathOf, "delpaths/1": delpathsOf,
 		"abs/0": absOf, "toarray/0": toarrayOf,
 	}
@@ -421,26 +421,20 @@ func uniqueByOf(v api.Value, a []api.Value) answer {
 	return groups
 }
 
-func minByOf(v api.Value, a []api.Value) answer {
-	pairs, fit := pairsOf(v, a)
-	switch {
-	case !fit:
-		return unfit
-	case len(pairs) == 0:
-		return is(api.Value{})
+// endOf is of the first or the last item in the order of the keys.
+func endOf(last bool) says {
+	return func(v api.Value, a []api.Value) answer {
+		pairs, fit := pairsOf(v, a)
+		switch {
+		case !fit:
+			return unfit
+		case len(pairs) == 0:
+			return is(api.Value{})
+		case last:
+			return is(pairs[len(pairs)-1].item)
+		}
+		return is(pairs[0].item)
 	}
-	return is(pairs[0].item)
-}
-
-func maxByOf(v api.Value, a []api.Value) answer {
-	pairs, fit := pairsOf(v, a)
-	switch {
-	case !fit:
-		return unfit
-	case len(pairs) == 0:
-		return is(api.Value{})
-	}
-	return is(pairs[len(pairs)-1].item)
 }
 
 func addOf(v api.Value, a []api.Value) answer {
