@@ -136,7 +136,7 @@ func TestP19_4Bound(t *testing.T) {
 		e, _ := scope.Check(n)
 		free, _ := scope.Free(n)
 		for _, name := range free {
-			n = boundBy(t, n, name)
+			n = boundBy(n, name)
 		}
 		frees(t, n)
 		if now, _ := scope.Check(n); now != api.OK && now != api.ErrTaken || e == api.ErrTaken && now != e {
@@ -146,8 +146,7 @@ func TestP19_4Bound(t *testing.T) {
 }
 
 // boundBy is a filter within a part that binds a name.
-func boundBy(t *testing.T, n api.Node, name string) api.Node {
-	t.Helper()
+func boundBy(n api.Node, name string) api.Node {
 	self := specimen.Part(api.Self)
 	switch name[0] {
 	case '$':
@@ -155,7 +154,7 @@ func boundBy(t *testing.T, n api.Node, name string) api.Node {
 	case '*':
 		return specimen.NamedPart(api.Label, name[1:], n)
 	}
-	text, arity := split(t, name)
+	text, arity := specimen.Function(name)
 	return specimen.Definition(text, slices.Repeat([]string{"$q"}, arity), self, n)
 }
 

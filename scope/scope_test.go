@@ -78,17 +78,6 @@ func builtinIs(t *testing.T, name string, arity int, want bool) {
 	}
 }
 
-// split is a function's name and its number of arguments, of how the chapter writes it.
-func split(t *testing.T, written string) (string, int) {
-	t.Helper()
-	name, digits, _ := strings.Cut(written, "/")
-	arity, err := strconv.Atoi(digits)
-	if err != nil {
-		t.Fatal(err)
-	}
-	return name, arity
-}
-
 // calling is a Call with so many arguments.
 func calling(name string, arity int) api.Node {
 	return specimen.NamedPart(api.Call, name, slices.Repeat([]api.Node{specimen.Part(api.Self)}, arity)...)
@@ -101,7 +90,7 @@ func TestP19_3Each(t *testing.T) {
 		t.Errorf("the list has %d", len(all))
 	}
 	for _, written := range all {
-		name, own := split(t, written)
+		name, own := specimen.Function(written)
 		for arity := own - 3; arity <= own+12; arity++ {
 			want := listed(name, arity)
 			builtinIs(t, name, arity, want)
@@ -127,7 +116,7 @@ func TestP19_3Each(t *testing.T) {
 
 func TestP19_3Numbers(t *testing.T) {
 	for _, written := range builtins() {
-		name, own := split(t, written)
+		name, own := specimen.Function(written)
 		for _, arity := range []int{-own, -own - 1, ^own, own + 1<<8, own + 1<<16, own + 1<<31, own + 1<<32, own - 1<<32, own + 1<<62, own - 1<<62, own + math.MinInt, math.MaxInt, math.MaxInt - own, 10 + own, 10 * (own + 1), 48 + own} {
 			builtinIs(t, name, arity, listed(name, arity))
 		}
@@ -138,7 +127,7 @@ func TestP19_3Numbers(t *testing.T) {
 func TestP19_3Texts(t *testing.T) {
 	texts := []string{"", " ", "/", "0", "/0", "$", "*", "_", ".", "if", "def", "null", "map", "select", "recurse", "limit", "first", "last", "any", "all", "foo", "sort_by", "group_by", "unique_by", "min_by", "max_by", "del", "to_entries", "values", "floor", "test", "input", "\xff", "\x00", "é", "empty error", "length utf8bytelength", "error/0 error", builtinWords, "utf8byte", "trimstr", "by", "_by", "ascii", "paths", strings.Repeat("length", 10000)}
 	for _, written := range builtins() {
-		name, _ := split(t, written)
+		name, _ := specimen.Function(written)
 		texts = append(texts, written, name+" ", " "+name, name+"/", "$"+name, "*"+name, name+"\x00", name+"0", name+"s", "_"+name, "__"+name, strings.ToUpper(name), name[1:], name[:len(name)-1], strings.ToUpper(name[:1])+name[1:], name+name, name+"\xff", "\n"+name, name+"é")
 	}
 	for _, s := range texts {
@@ -318,7 +307,7 @@ func TestP19_1Taken(t *testing.T) {
 // Each thing that is built in, but for these three, may be defined anew.
 func TestP19_4Hides(t *testing.T) {
 	for _, written := range builtins() {
-		name, arity := split(t, written)
+		name, arity := specimen.Function(written)
 		n := specimen.Definition(name, slices.Repeat([]string{"a"}, arity), calling(name, arity), calling(name, arity))
 		n.At = 4
 		if slices.Contains([]string{"path/1", "getpath/1", "setpath/2"}, written) {

@@ -50,22 +50,12 @@ func TestP18_2Alike(t *testing.T) {
 	for range 2000 {
 		n := specimen.DrawnFilter(pick, 4)
 		want, _ := show.Text(n)
-		for _, other := range []api.Node{specimen.EmptyListedFilter(n), specimen.RoomyFilter(n), placed(n, 0), placed(n, -7)} {
+		for _, other := range []api.Node{specimen.EmptyListedFilter(n), specimen.RoomyFilter(n), specimen.PlacedFilter(n, 0), specimen.PlacedFilter(n, -7)} {
 			if got, e := show.Text(other); got != want || e != api.OK {
 				t.Errorf("Text = %q, %d, and was %q", got, e, want)
 			}
 		}
 	}
-}
-
-// placed is a filter with this place everywhere.
-func placed(n api.Node, at int) api.Node {
-	n.At = at
-	n.Kids = slices.Clone(n.Kids)
-	for i, kid := range n.Kids {
-		n.Kids[i] = placed(kid, at)
-	}
-	return n
 }
 
 // Filters that are unlike have unlike texts.

@@ -24,6 +24,26 @@ func Definition(name string, names []string, body, rest api.Node) api.Node {
 	return api.Node{Op: api.Def, Text: name, Names: names, Kids: []api.Node{body, rest}}
 }
 
+// PlacedFilter is a filter with one place everywhere.
+func PlacedFilter(n api.Node, at int) api.Node {
+	n.At = at
+	n.Kids = slices.Clone(n.Kids)
+	for i, kid := range n.Kids {
+		n.Kids[i] = PlacedFilter(kid, at)
+	}
+	return n
+}
+
+// Function is the name and the number of arguments of a function, of how chapter 19 writes it.
+func Function(written string) (string, int) {
+	name, digits, _ := strings.Cut(written, "/")
+	arity, err := strconv.Atoi(digits)
+	if err != nil {
+		panic("no function: " + written)
+	}
+	return name, arity
+}
+
 // opNames are what the Ops are called, by their numbers.
 func opNames() []string {
 	return strings.Fields("none self const join list record var index slice each try neg pipe both add sub mul div mod eq ne lt le gt ge and or else if bind reduce foreach def call label break put update addto subto multo divto modto elseto")

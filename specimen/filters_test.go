@@ -100,3 +100,23 @@ func TestFilters(t *testing.T) {
 		t.Error(told)
 	}
 }
+
+func TestPlacedFilter(t *testing.T) {
+	n := specimen.PlacedFilter(bareFilter(), 9)
+	if !specimen.AlikeFilters(n, bareFilter()) || n.At != 9 || n.Kids[0].At != 9 || n.Kids[0].Kids[0].At != 9 || n.Kids[1].Kids[1].At != 9 {
+		t.Errorf("it is %s", specimen.ToldFilter(n, true))
+	}
+	before := bareFilter()
+	specimen.PlacedFilter(before, 9)
+	if !specimen.EqualFilters(before, bareFilter()) {
+		t.Errorf("what was given is %s", specimen.ToldFilter(before, true))
+	}
+}
+
+func TestFunction(t *testing.T) {
+	for written, want := range map[string]string{"f/0": "f", "_g1/12": "_g1"} {
+		if name, arity := specimen.Function(written); name != want || arity != map[string]int{"f/0": 0, "_g1/12": 12}[written] {
+			t.Errorf("%s is %s with %d", written, name, arity)
+		}
+	}
+}

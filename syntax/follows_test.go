@@ -104,7 +104,7 @@ func TestP17_3Equivalence(t *testing.T) {
 	for range 40 {
 		n := specimen.DrawnFilter(pick, 2)
 		others := specimen.NudgedFilters(n)
-		all = append(all, n, placed(n, 3), specimen.EmptyListedFilter(n), others[pick(len(others))], placed(others[0], 4))
+		all = append(all, n, specimen.PlacedFilter(n, 3), specimen.EmptyListedFilter(n), others[pick(len(others))], specimen.PlacedFilter(others[0], 4))
 	}
 	for _, a := range all {
 		for _, b := range all {

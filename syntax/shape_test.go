@@ -22,21 +22,11 @@ func number(s string) api.Node { return specimen.Constant(specimen.Num(s)) }
 // checkFormed holds Formed of a filter, whatever its places are, and whether its lists are nil or empty.
 func checkFormed(t *testing.T, n api.Node, want bool) {
 	t.Helper()
-	for _, same := range []api.Node{n, specimen.EmptyListedFilter(n), placed(n, -7), placed(n, math.MaxInt)} {
+	for _, same := range []api.Node{n, specimen.EmptyListedFilter(n), specimen.PlacedFilter(n, -7), specimen.PlacedFilter(n, math.MaxInt)} {
 		if got := syntax.Formed(same); got != want {
 			t.Errorf("Formed(%.500s): %v", specimen.ToldFilter(same, false), got)
 		}
 	}
-}
-
-// placed is a filter with this place in each of its parts.
-func placed(n api.Node, at int) api.Node {
-	n.At = at
-	n.Kids = slices.Clone(n.Kids)
-	for i, kid := range n.Kids {
-		n.Kids[i] = placed(kid, at)
-	}
-	return n
 }
 
 func TestP17_2Examples(t *testing.T) {
@@ -179,7 +169,7 @@ func TestP17_2Depth(t *testing.T) {
 		}
 	}
 	for _, n := range slices.Concat(specimen.FilterForms(), specimen.MisshapenFilters()) {
-		for _, same := range []api.Node{n, specimen.EmptyListedFilter(n), placed(n, -1)} {
+		for _, same := range []api.Node{n, specimen.EmptyListedFilter(n), specimen.PlacedFilter(n, -1)} {
 			if got := syntax.Depth(same); got != depthOf(n) {
 				t.Errorf("Depth(%s) = %d", specimen.ToldFilter(n, false), got)
 			}
@@ -232,7 +222,7 @@ func TestP17_2Same(t *testing.T) {
 		all = append(all, specimen.DrawnFilter(pick, 3), specimen.SpoiltFilter(specimen.DrawnFilter(pick, 3), pick))
 	}
 	for _, n := range all {
-		for _, alike := range []api.Node{n, placed(n, 12), placed(n, -1), specimen.EmptyListedFilter(n), specimen.RoomyFilter(n), specimen.EmptyListedFilter(placed(n, 9))} {
+		for _, alike := range []api.Node{n, specimen.PlacedFilter(n, 12), specimen.PlacedFilter(n, -1), specimen.EmptyListedFilter(n), specimen.RoomyFilter(n), specimen.EmptyListedFilter(specimen.PlacedFilter(n, 9))} {
 			checkSame(t, n, alike, true)
 		}
 		for _, other := range specimen.NudgedFilters(n) {
