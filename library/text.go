@@ -1,0 +1,51 @@
+package library
+
+// text is the library's: a definition in each line.
+const text = `def map(f): [.[] | f];
+def select(f): if f then . else empty end;
+def recurse(f): def r: ., (f | r); r;
+def recurse: recurse(.[]?);
+def values: select(. != null);
+def nulls: select(. == null);
+def booleans: select(type == "boolean");
+def numbers: select(type == "number");
+def strings: select(type == "string");
+def arrays: select(type == "array");
+def objects: select(type == "object");
+def iterables: select(type == "array" or type == "object");
+def scalars: select(type != "array" and type != "object");
+def range($n): range(0; $n);
+def sort_by(f): _sort_by(map([f]));
+def group_by(f): _group_by(map([f]));
+def unique_by(f): _unique_by(map([f]));
+def min_by(f): _min_by(map([f]));
+def max_by(f): _max_by(map([f]));
+def to_entries: [keys[] as $k | {key: $k, value: .[$k]}];
+def from_entries: reduce .[] as $e ({}; . + {($e | .key): $e.value});
+def with_entries(f): to_entries | map(f) | from_entries;
+def any(f): reduce .[] as $x (false; . or ($x | f));
+def any: any(.);
+def all(f): reduce .[] as $x (true; . and ($x | f));
+def all: all(.);
+def first(f): label $out | (f | ., break $out);
+def first: .[0];
+def last(f): reduce f as $x (null; $x);
+def last: .[-1];
+def limit($n; f): if $n > 0 then label $out | foreach f as $x (0; . + 1; $x, if . >= $n then break $out else empty end) else empty end;
+def nth($n): .[$n];
+def nth($n; f): last(limit($n + 1; f));
+def isempty(f): label $out | ((f | false, break $out), true);
+def isvalid(f): try (f | true) catch false;
+def until(c; u): def r: if c then . else u | r end; r;
+def while(c; u): def r: if c then ., (u | r) else empty end; r;
+def index($x): indices($x) | .[0];
+def rindex($x): indices($x) | .[-1];
+def in(x): . as $k | x | has($k);
+def inside(x): . as $v | x | contains($v);
+def del(f): delpaths([path(f)]);
+def paths: path(..) | select(length > 0);
+def paths(f): . as $v | paths | select(. as $p | $v | getpath($p) | f);
+def leaf_paths: paths(scalars);
+def pick(f): . as $v | reduce path(f) as $p (null; setpath($p; $v | getpath($p)));
+def walk(f): def w: if type == "object" then with_entries(.value |= w) elif type == "array" then map(w) else . end | f; w;
+`
