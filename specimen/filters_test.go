@@ -5,6 +5,7 @@ import (
 	"testing"
 
 	"hallmark/api"
+	"hallmark/scope"
 	"hallmark/specimen"
 	"hallmark/syntax"
 )
@@ -117,6 +118,31 @@ func TestFunction(t *testing.T) {
 	for written, want := range map[string]string{"f/0": "f", "_g1/12": "_g1"} {
 		if name, arity := specimen.Function(written); name != want || arity != map[string]int{"f/0": 0, "_g1/12": 12}[written] {
 			t.Errorf("%s is %s with %d", written, name, arity)
+		}
+	}
+}
+
+// Drawn closed filters are well shaped, closed and plain, of all Ops that aren't changes; names hide one another in them.
+func TestClosedFilter(t *testing.T) {
+	pick := specimen.Source(rand.New(rand.NewSource(18)).Intn)
+	ops := map[int]int{}
+	var count func(n api.Node)
+	count = func(n api.Node) {
+		ops[n.Op]++
+		for _, kid := range n.Kids {
+			count(kid)
+		}
+	}
+	for i := range 5000 {
+		n := specimen.ClosedFilter(pick, 1+i%6)
+		count(n)
+		if e, _ := scope.Check(n); e != api.OK || syntax.Depth(n) > 1+i%6 {
+			t.Errorf("error %d of %s", e, specimen.ToldFilter(n, false))
+		}
+	}
+	for op := api.Self; op <= api.ElseTo; op++ {
+		if (ops[op] >= 50) != (op < api.Put) || op >= api.Put && ops[op] > 0 {
+			t.Errorf("%d are of Op %d", ops[op], op)
 		}
 	}
 }
