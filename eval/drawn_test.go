@@ -6,23 +6,13 @@ import (
 	"hallmark/api"
 	"hallmark/eval"
 	"hallmark/library"
-	"hallmark/reader"
 	"hallmark/specimen"
 	"hallmark/syntax"
 )
 
-// drawnInputs are values that drawn filters often fit.
-func drawnInputs() []api.Value {
-	var out []api.Value
-	for _, s := range []string{"null", "1", `"a"`, "[0,1]", "[[1,2],[3]]", `{"a":1,"b":[1]}`, `[{"a":[0]},null]`, `{"a":{"a":"b"},"b":{}}`} {
-		out = append(out, specimen.JSON(s))
-	}
-	return out
-}
-
 func TestP23_3Drawn(t *testing.T) {
 	pick := pickOf(2371)
-	inputs := drawnInputs()
+	inputs := specimen.FittingInputs()
 	ends, outs := [3]int{}, 0
 	for i := range 6000 {
 		n, v := specimen.ClosedFilter(pick, 3+i%6), inputs[pick(len(inputs))]
@@ -43,7 +33,7 @@ func TestP23_3Drawn(t *testing.T) {
 // Drawn filters within others, which they are handed to, which bind what they may ask for, and which catch what they end with.
 func TestP23_3DrawnWithin(t *testing.T) {
 	pick := pickOf(2372)
-	inputs := drawnInputs()
+	inputs := specimen.FittingInputs()
 	for range 500 {
 		a, b := specimen.ClosedFilter(pick, 4), specimen.ClosedFilter(pick, 4)
 		v := inputs[pick(len(inputs))]
@@ -61,10 +51,7 @@ func FuzzAny(f *testing.F) {
 	}
 	f.Fuzz(func(t *testing.T, s, in string) {
 		pick := specimen.Picks([]byte(in + s))
-		v := specimen.Drawn(pick, 3)
-		if read, e, _ := reader.One(in); e == api.OK {
-			v = read
-		}
+		v := specimen.ReadOrDrawn(in, pick)
 		n, e, _ := syntax.Parse(s)
 		if e == api.OK {
 			n, e, _ = library.With(n)
@@ -74,7 +61,6 @@ func FuzzAny(f *testing.F) {
 		} else {
 			checkWords(t, n, v, 300)
 			checkMemory(t, n, v, 300)
-			checkStepsMemory(t, n, v, 300)
 			checkFollows(t, n, v, upToFuel(20))
 		}
 		checkWords(t, specimen.ClosedFilter(pick, 5), v, 300)

@@ -3,7 +3,6 @@ package eval_test
 import (
 	"slices"
 	"strconv"
-	"strings"
 	"testing"
 
 	"hallmark/api"
@@ -81,17 +80,12 @@ func (o outcome) fuels() []int {
 }
 
 // endText is how a run ended, as a text.
-func endText(r api.Result) string {
-	return [...]string{"done", "failed with " + json(r.Fault), "spent"}[r.End] + ", left " + strconv.Itoa(r.Left)
-}
+func endText(r api.Result) string { return specimen.ToldEnd(r) }
 
-// toldRun is what a run came to, as a text.
+// toldRun is what a run came to with these outputs, as a text.
 func toldRun(outs []api.Value, r api.Result) string {
-	var out []string
-	for _, v := range outs {
-		out = append(out, json(v))
-	}
-	return strings.Join(out, " ") + " " + endText(r)
+	r.Outs = outs
+	return specimen.ToldResult(r)
 }
 
 // wantRun is that by the words.
@@ -108,11 +102,13 @@ func (o outcome) wantRun(fuel int) string {
 	return toldRun(outs, r)
 }
 
+// runs are the calls that give outputs.
+func runs() specimen.Runs { return specimen.Runs{Run: eval.Run, Steps: eval.Steps} }
+
 // gotRun is what Run or Paths answers, likewise.
 func gotRun(n api.Node, v api.Value, inWays bool, fuel int) string {
 	if !inWays {
-		r, e := eval.Run(n, v, fuel)
-		return toldRun(r.Outs, r) + errorText(e)
+		return runs().Told(n, v, fuel)
 	}
 	ways, r, e := eval.Paths(n, v, fuel)
 	var outs []api.Value
@@ -122,27 +118,10 @@ func gotRun(n api.Node, v api.Value, inWays bool, fuel int) string {
 	if len(r.Outs) > 0 {
 		return "outputs of Paths"
 	}
-	return toldRun(outs, r) + errorText(e)
+	return toldRun(outs, r) + specimen.ToldError(e)
 }
 
-func errorText(e api.Errno) string {
-	if e == api.OK {
-		return ""
-	}
-	return " error " + strconv.Itoa(int(e))
-}
-
-// gotSteps is what Steps goes through, likewise, with what is left behind each output in brackets.
-func gotSteps(n api.Node, v api.Value, fuel int) string {
-	seq, e := eval.Steps(n, v, fuel)
-	out := ""
-	for r := range seq {
-		out += stepText(r) + "; "
-	}
-	return out + errorText(e)
-}
-
-func stepText(r api.Result) string { return toldRun(r.Outs, r) }
+func stepText(r api.Result) string { return specimen.ToldResult(r) }
 
 // wantSteps is that by the words.
 func (o outcome) wantSteps(fuel int) string {
@@ -160,7 +139,7 @@ func checkWords(t *testing.T, n api.Node, v api.Value, most int) outcome {
 	run, ways := worked(n, v, false, most), worked(n, v, true, most)
 	for _, fuel := range run.fuels() {
 		same(t, n, v, "Run with "+strconv.Itoa(fuel), gotRun(n, v, false, fuel), run.wantRun(fuel))
-		same(t, n, v, "Steps with "+strconv.Itoa(fuel), gotSteps(n, v, fuel), run.wantSteps(fuel))
+		same(t, n, v, "Steps with "+strconv.Itoa(fuel), runs().ToldSteps(n, v, fuel), run.wantSteps(fuel))
 	}
 	for _, fuel := range ways.fuels() {
 		same(t, n, v, "Paths with "+strconv.Itoa(fuel), gotRun(n, v, true, fuel), ways.wantRun(fuel))

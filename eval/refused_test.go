@@ -1,7 +1,6 @@
 package eval_test
 
 import (
-	"math"
 	"slices"
 	"testing"
 
@@ -15,24 +14,10 @@ import (
 // refuses holds all calls to an error, and to nothing beside it.
 func refuses(t *testing.T, n api.Node, v api.Value, fuel int, want api.Errno) {
 	t.Helper()
-	r, e := eval.Run(n, v, fuel)
-	seq, f := eval.Steps(n, v, fuel)
-	ways, p, g := eval.Paths(n, v, fuel)
-	if e != want || f != want || g != want {
-		t.Errorf("of %.300s on %.200v with %d: %d, %d, %d, want %d", specimen.ToldFilter(n, false), v, fuel, e, f, g, want)
+	wrong := runs().WrongRefusal(n, v, fuel, want)
+	if ways, r, e := eval.Paths(n, v, fuel); wrong != "" || e != want || len(ways) > 0 || specimen.ToldResult(r) != specimen.ToldResult(api.Result{}) {
+		t.Errorf("of %.300s on %.200v with %d: %s; of Paths %d: %v, %s, want %d", specimen.ToldFilter(n, false), v, fuel, wrong, e, ways, specimen.ToldResult(r), want)
 	}
-	if !zero(r) || !zero(p) || len(ways) > 0 || seq == nil {
-		t.Fatalf("of %.300s with %d beside the error: %v, %v, %v", specimen.ToldFilter(n, false), fuel, r, ways, p)
-	}
-	for range 2 {
-		for r := range seq {
-			t.Errorf("of %.300s with %d beside the error a step: %v", specimen.ToldFilter(n, false), fuel, r)
-		}
-	}
-}
-
-func zero(r api.Result) bool {
-	return len(r.Outs) == 0 && r.End == 0 && specimen.Alike(r.Fault, api.Value{}) && r.Left == 0
 }
 
 // takes holds all calls to no error.
@@ -46,26 +31,15 @@ func takes(t *testing.T, n api.Node, v api.Value, fuel int) {
 	}
 }
 
-// wrongFuels are no fuels.
-func wrongFuels() []int {
-	return []int{-1, -2, math.MinInt, 1048577, 1048578, 1 << 32, math.MaxInt}
-}
-
 // wrongShapes are filters that no run is of, by what is wrong with them.
 func wrongShapes() map[string]api.Node {
 	self := specimen.Part(api.Self)
-	return map[string]api.Node{
-		"not well shaped":  specimen.Part(api.Pipe, self),
-		"no Op":            {Op: 77},
-		"not plain":        specimen.Part(api.Update, self, self),
-		"a free function":  specimen.NamedPart(api.Call, "f"),
-		"a free variable":  specimen.NamedPart(api.Var, "x"),
-		"a free label":     specimen.NamedPart(api.Break, "x"),
-		"a taken name":     specimen.Definition("path", []string{"f"}, self, self),
-		"all of these":     specimen.Part(api.Put, specimen.NamedPart(api.Var, "x"), specimen.Part(api.Neg)),
-		"not plain inside": specimen.Part(api.List, specimen.Part(api.Neg, specimen.Part(api.ElseTo, self, self))),
-		"a change beside":  specimen.Part(api.Pipe, specimen.NamedPart(api.Var, "x"), specimen.Part(api.AddTo, self, self)),
-	}
+	out := specimen.OpenFilters()
+	out["not plain"] = specimen.Part(api.Update, self, self)
+	out["all of these"] = specimen.Part(api.Put, specimen.NamedPart(api.Var, "x"), specimen.Part(api.Neg))
+	out["not plain inside"] = specimen.Part(api.List, specimen.Part(api.Neg, specimen.Part(api.ElseTo, self, self)))
+	out["a change beside"] = specimen.Part(api.Pipe, specimen.NamedPart(api.Var, "x"), specimen.Part(api.AddTo, self, self))
+	return out
 }
 
 func TestP23_2Alone(t *testing.T) {
@@ -79,7 +53,7 @@ func TestP23_2Alone(t *testing.T) {
 	for _, v := range specimen.Wrong() {
 		refuses(t, self, v, 100, api.ErrShape)
 	}
-	for _, fuel := range wrongFuels() {
+	for _, fuel := range specimen.WrongFuels() {
 		refuses(t, self, null, fuel, api.ErrRange)
 	}
 	refuses(t, self, api.Value{Kind: api.Number, Num: "1.5"}, 100, api.ErrShape)
@@ -87,7 +61,7 @@ func TestP23_2Alone(t *testing.T) {
 
 func TestP23_2Together(t *testing.T) {
 	self, null := specimen.Part(api.Self), api.Value{}
-	for _, fuel := range append(wrongFuels(), 0, 1, 1048576) {
+	for _, fuel := range append(specimen.WrongFuels(), 0, 1, 1048576) {
 		for _, n := range wrongShapes() {
 			for _, v := range []api.Value{null, specimen.Num("1"), specimen.Kind(8), specimen.Num("07"), specimen.List(specimen.Kind(-1))} {
 				refuses(t, n, v, fuel, api.ErrShape)

@@ -69,42 +69,12 @@ func TestP23_4AgainstRun(t *testing.T) {
 	}
 }
 
-// Left at each step, and gone through again, each time from the beginning, also while it is being gone through.
+// Left at each step, and gone through again, each time from the beginning, also while it is being gone through; what the caller gives up with goes through it.
 func TestP23_4LeftAndAgain(t *testing.T) {
 	for _, s := range many() {
-		seq := steps(t, parsed(t, s), specimen.JSON("[1,[2]]"), 300)
-		texts := func(most int) []string {
-			var out []string
-			for r := range seq {
-				if out = append(out, stepText(r)); len(out) == most {
-					break
-				}
-			}
-			return out
+		if wrong := runs().WrongSteps(parsed(t, s), specimen.JSON("[1,[2]]"), 300); wrong != "" {
+			t.Errorf("%s: %s", s, wrong)
 		}
-		all := texts(0)
-		for most := 1; most <= len(all)+1; most++ {
-			if got := texts(most); !slices.Equal(got, all[:min(most, len(all))]) {
-				t.Errorf("%s left behind %d steps: %q, want %q", s, most, got, all)
-			}
-		}
-		i := 0
-		for r := range seq {
-			if stepText(r) != all[i] || !slices.Equal(texts(0), all) {
-				t.Errorf("%s gone through within itself: step %d is %s", s, i, stepText(r))
-			}
-			i++
-		}
-		next, stop := iter.Pull(seq)
-		for _, want := range all {
-			if r, ok := next(); !ok || stepText(r) != want {
-				t.Errorf("%s pulled: %s, want %s", s, stepText(r), want)
-			}
-		}
-		if _, ok := next(); ok {
-			t.Errorf("%s pulled goes on", s)
-		}
-		stop()
 	}
 }
 
@@ -125,22 +95,5 @@ func TestP23_4NoFurther(t *testing.T) {
 		if first > 200 || whole < 3000 {
 			t.Errorf("the first step of %s makes %v pieces of memory, all together %v", s, first, whole)
 		}
-	}
-}
-
-// What the caller gives up with goes through Steps.
-func TestP23_4CallersPanic(t *testing.T) {
-	for _, s := range many() {
-		seq := steps(t, parsed(t, s), specimen.JSON("[1]"), 300)
-		func() {
-			defer func() {
-				if why := recover(); why != "mine" {
-					t.Errorf("%s: %v comes through", s, why)
-				}
-			}()
-			for range seq {
-				panic("mine")
-			}
-		}()
 	}
 }

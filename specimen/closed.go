@@ -9,12 +9,28 @@ import (
 
 // ClosedFilter is a well shaped filter without changes, with at most so many parts around one another, each name of which stands for something. Most of its parts fit one another, and its names are few, so that they hide one another and what is built in.
 func ClosedFilter(pick Source, deep int) api.Node {
-	return sight{pick: pick}.part(deep)
+	return sight{pick: pick, names: fewNames()}.part(deep)
+}
+
+// ChangingFilter is one with changes among its parts, and with names that changes bind when they are rewritten.
+func ChangingFilter(pick Source, deep int) api.Node {
+	return sight{pick: pick, names: strings.Fields("_ __ f ___ length empty error"), changes: true}.part(deep)
+}
+
+// FittingInputs are values that such filters often fit.
+func FittingInputs() []api.Value {
+	var out []api.Value
+	for _, s := range []string{"null", "1", `"a"`, "[0,1]", "[[1,2],[3]]", `{"a":1,"b":[1]}`, `[{"a":[0]},null]`, `{"a":{"a":"b"},"b":{}}`} {
+		out = append(out, JSON(s))
+	}
+	return out
 }
 
 // sight is what a part that is drawn sees of names.
 type sight struct {
 	pick      Source
+	names     []string   // those that its parts bind
+	changes   bool       // whether some parts are changes
 	functions []api.Node // Calls, with a Self for each argument
 	variables []string
 	labels    []string
@@ -22,8 +38,11 @@ type sight struct {
 
 // part is a drawn one: often of several outputs, and seldom one that fails, as behind that nothing is seen.
 func (s sight) part(deep int) api.Node {
-	if deep <= 1 {
+	switch {
+	case deep <= 1:
 		return s.leaf()
+	case s.changes && s.pick(6) == 0:
+		return Part(api.Put+s.pick(8), s.places(deep-1), s.part(deep-1))
 	}
 	switch at := s.pick(32); {
 	case at < 2:
@@ -165,7 +184,7 @@ func (s sight) key(op int) api.Node {
 // binding is a part that binds a variable or a label.
 func (s sight) binding(deep int) api.Node {
 	op := [...]int{api.Bind, api.Bind, api.Reduce, api.Foreach, api.Label}[s.pick(5)]
-	n, inner := NamedPart(op, one(s.pick, fewNames()[:3])), s
+	n, inner := NamedPart(op, one(s.pick, s.names[:3])), s
 	first := 1 // kid that sees the name
 	switch op {
 	case api.Label:
@@ -189,9 +208,9 @@ func (s sight) binding(deep int) api.Node {
 
 // definition is a Def, and most often a Call of it behind.
 func (s sight) definition(deep int) api.Node {
-	name, entries := one(s.pick, fewNames()), []string(nil)
+	name, entries := one(s.pick, s.names), []string(nil)
 	for range s.pick(3) {
-		entries = append(entries, [...]string{"", "$"}[s.pick(2)]+one(s.pick, fewNames()))
+		entries = append(entries, [...]string{"", "$"}[s.pick(2)]+one(s.pick, s.names))
 	}
 	call := NamedPart(api.Call, name, slices.Repeat([]api.Node{Part(api.Self)}, len(entries))...)
 	outside, body := s.seeing(call), s

@@ -122,27 +122,50 @@ func TestFunction(t *testing.T) {
 	}
 }
 
-// Drawn closed filters are well shaped, closed and plain, of all Ops that aren't changes; names hide one another in them.
-func TestClosedFilter(t *testing.T) {
+// drawnOps draws closed filters, holds them to being so, and counts their parts by Ops and by what they are called.
+func drawnOps(t *testing.T, draw func(pick specimen.Source, deep int) api.Node) (map[int]int, map[string]int) {
+	t.Helper()
 	pick := specimen.Source(rand.New(rand.NewSource(18)).Intn)
-	ops := map[int]int{}
+	ops, texts := map[int]int{}, map[string]int{}
 	var count func(n api.Node)
 	count = func(n api.Node) {
 		ops[n.Op]++
+		texts[n.Text]++
 		for _, kid := range n.Kids {
 			count(kid)
 		}
 	}
 	for i := range 5000 {
-		n := specimen.ClosedFilter(pick, 1+i%6)
+		n := draw(pick, 1+i%6)
 		count(n)
 		if e, _ := scope.Check(n); e != api.OK || syntax.Depth(n) > 1+i%6 {
 			t.Errorf("error %d of %s", e, specimen.ToldFilter(n, false))
 		}
 	}
+	return ops, texts
+}
+
+// Drawn closed filters are well shaped, closed and plain, of all Ops that aren't changes; names hide one another in them.
+func TestClosedFilter(t *testing.T) {
+	ops, _ := drawnOps(t, specimen.ClosedFilter)
 	for op := api.Self; op <= api.ElseTo; op++ {
 		if (ops[op] >= 50) != (op < api.Put) || op >= api.Put && ops[op] > 0 {
 			t.Errorf("%d are of Op %d", ops[op], op)
+		}
+	}
+}
+
+// Those with changes are of all Ops, and have the names that changes bind.
+func TestChangingFilter(t *testing.T) {
+	ops, texts := drawnOps(t, specimen.ChangingFilter)
+	for op := api.Self; op <= api.ElseTo; op++ {
+		if ops[op] < 50 {
+			t.Errorf("%d are of Op %d", ops[op], op)
+		}
+	}
+	for _, name := range []string{"_", "__", "___"} {
+		if texts[name] < 50 {
+			t.Errorf("%d are called %s", texts[name], name)
 		}
 	}
 }

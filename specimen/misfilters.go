@@ -239,3 +239,21 @@ func nudgedPart(n api.Node) []api.Node {
 	}
 	return out
 }
+
+// OpenFilters are filters that aren't well shaped, or well shaped but not closed, by what is wrong with them.
+func OpenFilters() map[string]api.Node {
+	self := Part(api.Self)
+	return map[string]api.Node{
+		"not well shaped": Part(api.Pipe, self),
+		"no Op":           {Op: 77},
+		"a free function": NamedPart(api.Call, "f"),
+		"a free variable": NamedPart(api.Var, "x"),
+		"a free label":    NamedPart(api.Break, "x"),
+		"a taken name":    Definition("path", []string{"f"}, self, self),
+	}
+}
+
+// WrongFuels are no fuels.
+func WrongFuels() []int {
+	return []int{-1, -2, math.MinInt, api.MaxFuel + 1, api.MaxFuel + 2, 1 << 32, math.MaxInt}
+}

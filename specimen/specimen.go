@@ -8,6 +8,7 @@ import (
 	"sync"
 
 	"hallmark/api"
+	"hallmark/reader"
 )
 
 // Source picks one of so many: a number from 0 on, below it.
@@ -75,6 +76,15 @@ func Drawn(pick Source, deep int) api.Value {
 	default:
 		return Kind(k)
 	}
+}
+
+// ReadOrDrawn is the value that a text says, or a drawn one where it says none.
+func ReadOrDrawn(text string, pick Source) api.Value {
+	drawn := Drawn(pick, 3)
+	if v, e, _ := reader.One(text); e == api.OK {
+		return v
+	}
+	return drawn
 }
 
 // DrawnObject is a well shaped object, at most so deep, and at least one.

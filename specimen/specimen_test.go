@@ -102,3 +102,15 @@ func TestOrders(t *testing.T) {
 		break
 	}
 }
+
+func TestReadOrDrawn(t *testing.T) {
+	pick := specimen.Picks([]byte{2})
+	if read := specimen.ReadOrDrawn(`{"a":[]}`, pick); !specimen.Alike(read, specimen.Object([]string{"a"}, specimen.List())) {
+		t.Errorf("what is read is %v", read)
+	}
+	for _, s := range []string{"", "[", "1 2", "x"} {
+		if drawn := specimen.ReadOrDrawn(s, specimen.Picks([]byte{2})); !specimen.Alike(drawn, specimen.Kind(api.True)) {
+			t.Errorf("where %q is read, what is drawn is %v", s, drawn)
+		}
+	}
+}
